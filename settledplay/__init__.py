@@ -1,0 +1,1 @@
+"""Settledplay: a game engine whose worlds are the same wherever they are played."""

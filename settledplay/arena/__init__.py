@@ -1,0 +1,1 @@
+"""Boxes in an arena."""

@@ -1,0 +1,1 @@
+"""Integers, numbers and luck: what all else is built on."""

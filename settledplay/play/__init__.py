@@ -1,0 +1,1 @@
+"""Steps and the plain meaning of rows."""

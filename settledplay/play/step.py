@@ -1,0 +1,77 @@
+"""Steps, and the plain meaning of rows of joint words."""
+
+from settledplay.base.luck import following
+from settledplay.rules.forms import need_game
+from settledplay.rules.joints import is_joint_of, is_row_of, need_joint, need_row
+from settledplay.rules.running import record_of
+from settledplay.rules.runs import behind, ids_to_run
+from settledplay.world.worlds import World, first_world, need_world_of, world_of
+
+
+def step(game, world, joint):
+    """The next world, the records, and the effects."""
+    need_world_of(game, world)
+    need_joint(game, joint)
+    return stepped(game, world, joint)
+
+
+def stepped(game, world, joint):
+    """The step for sure arguments."""
+    now = world
+    records = []
+    for entry in range(len(game.entries)):
+        for thing in ids_to_run(game, now, entry):
+            # A run of the same entry can have dropped it.
+            if thing in now:
+                record = record_of(game, now, joint, entry, thing)
+                records.append(record)
+                now = behind(game, now, record)
+    after = world_of(now.tick + 1, now.next_id, following(now.luck), now.things)
+    return (after, tuple(records), tuple([effect for record in records for effect in record[7]]))
+
+
+def next_world(game, world, joint):
+    """The next world alone."""
+    need_world_of(game, world)
+    need_joint(game, joint)
+    return stepped(game, world, joint)[0]
+
+
+def is_next(game, world, joint, value):
+    """Whether the value is the next world."""
+    need_world_of(game, world)
+    need_joint(game, joint)
+    return isinstance(value, World) and value == stepped(game, world, joint)[0]
+
+
+def plain(game, row):
+    """The plain world of a row."""
+    need_game(game)
+    need_row(game, row)
+    world = first_world(game)
+    for joint in row:
+        world = stepped(game, world, joint)[0]
+    return world
+
+
+def plain_worlds(game, row):
+    """The plain worlds of all beginnings of a row, the shortest first."""
+    need_game(game)
+    need_row(game, row)
+    world = first_world(game)
+    yield world
+    for joint in row:
+        world = stepped(game, world, joint)[0]
+        yield world
+
+
+def is_joint(game, value):
+    """Whether the value is a joint word of the game."""
+    need_game(game)
+    return is_joint_of(game, value)
+
+
+def is_row(game, value):
+    """Whether the value is a row of joint words of the game."""
+    need_game(game)
+    return is_row_of(game, value)

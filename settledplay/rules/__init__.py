@@ -1,0 +1,1 @@
+"""Games as data, and the runs of their entries."""

@@ -1,0 +1,1 @@
+"""Worlds and their things."""

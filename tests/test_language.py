@@ -1,0 +1,242 @@
+"""The form of the package's code: the part of the language that it keeps to, and the shape of its interface.
+
+This is a net with wide meshes: it finds what breaks a rule plainly.
+"""
+
+import ast
+import builtins
+import importlib
+import inspect
+import os
+import unittest
+
+ROOT = os.path.join(os.path.dirname(os.path.dirname(os.path.abspath(__file__))), "settledplay")
+BUILTINS = set("""len range enumerate zip min max sum abs sorted reversed int str bool list tuple dict set isinstance ord repr
+any all divmod iter ValueError KeyError IndexError LookupError ArithmeticError OverflowError TypeError NotImplemented""".split())
+METHODS = set("""append clear copy count endswith extend find get index insert isalnum isalpha isdigit islower isspace isupper
+items join keys ljust lower lstrip partition pop remove replace reverse rfind rjust rpartition rsplit rstrip setdefault split
+splitlines startswith strip update upper values zfill bit_length isascii removeprefix removesuffix""".split())
+SPECIAL = set("__init__ __eq__ __repr__ __str__ __len__ __iter__ __contains__".split())
+BARRED = set("""register mro elements open input law version_info with_traceback add_note id type dir eval exec exit gc getattr
+hasattr globals help locals os quit setattr super sys vars compile breakpoint _record _outside _cold _written_out""".split())
+BARRED_WORDS = ("type", "typing", "enum", "Enum", "Flag", "Generic", "Protocol", "ABC", "namedtuple", "NamedTuple", "dataclass")
+STATEMENTS = (ast.Assign, ast.AugAssign, ast.If, ast.While, ast.For, ast.Return, ast.Break, ast.Continue, ast.Pass, ast.Raise,
+              ast.Expr, ast.FunctionDef, ast.Delete)
+EXPRESSIONS = (ast.Constant, ast.Name, ast.Attribute, ast.Call, ast.BoolOp, ast.BinOp, ast.UnaryOp, ast.Compare, ast.IfExp,
+               ast.Tuple, ast.List, ast.Dict, ast.Subscript, ast.Slice, ast.Starred, ast.ListComp, ast.DictComp, ast.SetComp,
+               ast.JoinedStr, ast.FormattedValue, ast.Yield)
+
+# The interface: modules, functions with their parameters, classes with their methods, constants.
+INTERFACE = {
+    "errors": ("", "InvalidText InvalidLuck InvalidWorld InvalidGame InvalidPlace InvalidRecord InvalidWord InvalidRow InvalidSetup"
+                   " InvalidLetter InvalidDisk InvalidBox InvalidTape InvalidStanding InvalidAct InvalidPaper InvalidOperation"
+                   " ParseError InvalidNumber UnknownName TooMany Refused PlayError", ""),
+    "base.numbers": ("is_number/1 clamped/1 worked/3", "", "MOST OPS"),
+    "base.luck": ("is_luck/1 next_luck/1 luck_ahead/1 luck_after/2 luck_before/2 lucks_between/2 stirred/1 unstirred/1"
+                  " spot_number/4 turn_of/4 drawn/5", "", "MODULUS FACTOR SUMMAND STILL MAX_SIDES"),
+    "world.worlds": ("made/3 dropped/2 changed/4 first_world/1 is_world_of/2 value_of/4 world_text/1 read_world/1",
+                     "World.ids World.kind_of World.numbers World.__contains__ World.__len__ World.__iter__ World.__eq__"
+                     " World.__str__", ""),
+    "rules.forms": ("game_fault/3 work/2", "Game.fields Game.body Game.__eq__ Game.__init__",
+                    "MAX_SIZE MAX_WITHIN MAX_THINGS MAX_WORK"),
+    "rules.runs": ("value_at/4 run/5 is_record/4 has_same_reads/4 put_on/3", "", ""),
+    "arena.boxes": ("are_meeting/2 reach/5 reach_by_units/5 barrier/5 moved_box/5 box_of/3 solid_around/3 moved_thing/3"
+                    " move_all/2 meeting_pairs/2", "", "SIDES MOST_UNITS"),
+    "play.step": ("step/3 next_world/3 is_next/4 plain/2 plain_worlds/2 is_joint/2 is_row/2", "", ""),
+}
+
+
+def files():
+    """The paths of all files of the package, without what Python keeps there for itself."""
+    for folder, folders, names in os.walk(ROOT):
+        if "__pycache__" in folders:
+            folders.remove("__pycache__")
+        for name in sorted(names):
+            yield os.path.join(folder, name)
+
+
+def module_of(path):
+    """The name of the module of a file."""
+    name = os.path.relpath(path, os.path.dirname(ROOT))[:-len(".py")].replace(os.sep, ".")
+    return name.removesuffix(".__init__")
+
+
+def told(path):
+    with open(path, encoding="ascii") as file:
+        return file.read()
+
+
+TREES = {path: ast.parse(told(path)) for path in files()}
+NODES = [(path, node) for path, tree in TREES.items() for node in ast.walk(tree)]
+OWN_METHODS = {node.name for _, cls in NODES if isinstance(cls, ast.ClassDef) for node in cls.body
+               if isinstance(node, ast.FunctionDef)}
+
+
+class LanguageTest(unittest.TestCase):
+    def none_of(self, rule, found):
+        self.assertEqual([f"{os.path.relpath(path, ROOT)}:{line}" for path, line in found], [], rule)
+
+    def where(self, rule, test):
+        self.none_of(rule, [(path, getattr(node, "lineno", 0)) for path, node in NODES if test(node)])
+
+    def test_files(self):
+        for path in files():
+            self.assertTrue(path.endswith(".py"), f"L1 {path}")
+            self.assertTrue(os.path.exists(os.path.join(os.path.dirname(path), "__init__.py")), f"L14 {path}")
+            self.assertNotIn(os.path.basename(path)[:-3], dir(builtins), f"L14 {path}")
+        self.assertLess(len(TREES), 100)
+
+    def test_characters_and_sizes(self):
+        for path in TREES:
+            lines = told(path).split("\n")
+            self.assertLessEqual(len(lines), 399, f"L10 {path}")
+            self.none_of("L10 lines", [(path, at + 1) for at, line in enumerate(lines) if len(line) > 120])
+            self.none_of("L14 characters", [(path, at + 1) for at, line in enumerate(lines)
+                                            if not all(" " <= sign <= "~" for sign in line)])
+        self.where("L10 functions", lambda n: isinstance(n, ast.FunctionDef) and n.end_lineno - n.lineno >= 40)
+
+    def test_imports(self):
+        own = {module_of(path): tree for path, tree in TREES.items()}
+        reached = {name: [] for name in own}
+        for path, node in NODES:
+            self.assertNotIsInstance(node, ast.Import, f"L2 {path}")
+            if isinstance(node, ast.ImportFrom):
+                self.assertEqual(node.level, 0, f"L2 {path}")
+                self.assertIn(node, TREES[path].body, f"L2 {path}")
+                reached[module_of(path)].append(node.module)
+                names = [name for statement in own[node.module].body for name in bound(statement)]
+                for alias in node.names:
+                    self.assertTrue(alias.name in names and alias.asname is None, f"L16 {path} {alias.name}")
+                    used = [n for n in ast.walk(TREES[path]) if isinstance(n, ast.Name) and n.id == alias.name]
+                    self.assertTrue(used, f"{path} imports {alias.name} for nothing")
+        for name in own:
+            seen, waiting = set(), list(reached[name])
+            while waiting:
+                other = waiting.pop()
+                if other not in seen:
+                    seen.add(other)
+                    waiting += reached[other]
+            self.assertNotIn(name, seen, "L16")
+
+    def test_module_level(self):
+        for path, tree in TREES.items():
+            names = [name for node in tree.body for name in bound(node)]
+            names += [alias.name for node in tree.body if isinstance(node, ast.ImportFrom) for alias in node.names]
+            self.assertEqual(len(names), len(set(names)), f"L15 {path}")
+            for node in tree.body:
+                docstring = isinstance(node, ast.Expr) and isinstance(node.value, ast.Constant)
+                plain = isinstance(node, ast.Assign) and is_plain(node.value)
+                self.assertTrue(docstring or plain or isinstance(node, (ast.ImportFrom, ast.FunctionDef, ast.ClassDef)),
+                                f"L3 {path}:{node.lineno}")
+
+    def test_statements_and_expressions(self):
+        others = (ast.stmt, ast.expr)
+        let = STATEMENTS + EXPRESSIONS + (ast.ClassDef, ast.ImportFrom)
+        self.where("L6, L7", lambda n: isinstance(n, others) and not isinstance(n, let))
+        self.where("L4, L5 decorators", lambda n: getattr(n, "decorator_list", []))
+        self.where("L7 floats", lambda n: isinstance(n, ast.Constant) and isinstance(n.value, (float, complex, bytes)))
+        self.where("L7 division", lambda n: isinstance(n, (ast.Div, ast.MatMult)))
+        self.where("L20", lambda n: isinstance(n, ast.Compare) and isinstance(n.ops[0], (ast.Is, ast.IsNot))
+                   and not isinstance(n.comparators[0], ast.Constant))
+        self.where("L27 exponents", lambda n: isinstance(n, ast.BinOp) and isinstance(n.op, ast.Pow)
+                   and not (isinstance(n.right, ast.Constant) and 0 <= n.right.value <= 64))
+        self.where("L27 strings", lambda n: isinstance(n, ast.Constant) and isinstance(n.value, str) and "%" in n.value)
+        self.where("L21 annotations", lambda n: getattr(n, "annotation", None) or getattr(n, "returns", None))
+
+    def test_names(self):
+        barred = BARRED | set(dir(builtins))
+        for path, tree in TREES.items():
+            taken = {alias.name for node in tree.body if isinstance(node, ast.ImportFrom) for alias in node.names}
+            taken |= {node.name for node in tree.body if isinstance(node, ast.ClassDef)}
+            for node in ast.walk(tree):
+                for name in given(node):
+                    self.assertNotIn(name, barred, f"L8, L15, L17 {path}:{node.lineno}")
+                    self.assertNotIn(name, taken if not isinstance(node, ast.ClassDef) else (), f"L15 {path}:{node.lineno}")
+                    self.assertFalse(name.startswith("__"), f"L8 {path}:{node.lineno}")
+            words = [n.value for n in ast.walk(tree) if isinstance(n, ast.Constant) and isinstance(n.value, str)]
+            names = [n.id for n in ast.walk(tree) if isinstance(n, ast.Name)] + [n.attr for n in ast.walk(tree) if isinstance(n, ast.Attribute)]
+            docstrings = [ast.get_docstring(n, clean=False) for n in ast.walk(tree)
+                          if isinstance(n, (ast.Module, ast.FunctionDef, ast.ClassDef))]
+            for word in [word for word in words if word not in docstrings] + names:
+                self.assertFalse(set(word.replace(".", " ").split()) & set(BARRED_WORDS), f"L17 {path} {word}")
+
+    def test_calls(self):
+        own = {name for tree in TREES.values() for node in tree.body for name in bound(node)}
+        for path, node in NODES:
+            if not isinstance(node, ast.Call):
+                continue
+            if isinstance(node.func, ast.Attribute):
+                self.assertIn(node.func.attr, METHODS | OWN_METHODS, f"L25 {path}:{node.lineno}")
+            elif isinstance(node.func, ast.Name) and node.func.id in dir(builtins):
+                self.assertIn(node.func.id, BUILTINS, f"L8 {path}:{node.lineno}")
+            else:
+                self.assertIsInstance(node.func, ast.Name, f"{path}:{node.lineno}")
+                self.assertIn(node.func.id, own | {"action"}, f"{path}:{node.lineno}")
+
+    def test_classes(self):
+        stored = {node.attr for _, node in NODES if isinstance(node, ast.Attribute) and isinstance(node.ctx, ast.Store)}
+        for path, node in NODES:
+            if isinstance(node, ast.ClassDef):
+                names = [part.name for part in node.body if isinstance(part, ast.FunctionDef)]
+                self.assertEqual(len(names), len(set(names)), f"L18 {path}")
+                for name in names:
+                    self.assertTrue(not name.startswith("__") or name in SPECIAL, f"L5 {path} {name}")
+                mine = {n.attr for n in ast.walk(node) if isinstance(n, ast.Attribute) and isinstance(n.ctx, ast.Store)}
+                self.assertFalse(mine & set(names), f"L18 {path}")
+            if isinstance(node, ast.Attribute) and isinstance(node.ctx, ast.Load):
+                self.assertIn(node.attr, stored | OWN_METHODS | METHODS, f"L18 {path}:{node.lineno}")
+
+
+def is_plain(value):
+    """Whether an expression at module level is of plain values and functions."""
+    parts = (ast.Constant, ast.Tuple, ast.List, ast.Dict, ast.Name, ast.UnaryOp, ast.USub, ast.Load)
+    return all(isinstance(node, parts) for node in ast.walk(value))
+
+
+def bound(node):
+    """The names that a statement at module level binds, imports apart."""
+    if isinstance(node, (ast.FunctionDef, ast.ClassDef)):
+        return [node.name]
+    return [target.id for target in node.targets] if isinstance(node, ast.Assign) else []
+
+
+def given(node):
+    """The names that a node gives to functions, classes, parameters or variables."""
+    if isinstance(node, ast.FunctionDef):
+        return [] if node.name in SPECIAL else [node.name]
+    if isinstance(node, ast.ClassDef):
+        return [node.name]
+    if isinstance(node, ast.arg):
+        return [node.arg]
+    return [node.id] if isinstance(node, ast.Name) and isinstance(node.ctx, ast.Store) else []
+
+
+class InterfaceTest(unittest.TestCase):
+    def test_all_is_there_and_defined_in_its_file(self):
+        for name, (functions, classes, constants) in INTERFACE.items():
+            module = importlib.import_module("settledplay." + name)
+            for word in functions.split():
+                function, many = word.split("/")
+                value = getattr(module, function)
+                self.assertEqual(value.__module__, module.__name__, word)
+                kinds = [parameter.kind for parameter in inspect.signature(value).parameters.values()]
+                self.assertEqual(kinds.count(inspect.Parameter.POSITIONAL_OR_KEYWORD), int(many), word)
+            for word in classes.split():
+                cls, _, method = word.partition(".")
+                self.assertEqual(getattr(module, cls).__module__, module.__name__, word)
+                self.assertTrue(not method or method in vars(getattr(module, cls)), word)
+            for word in constants.split():
+                self.assertTrue(hasattr(module, word), word)
+
+    def test_keywords(self):
+        forms, boxes = (importlib.import_module("settledplay." + name) for name in ("rules.forms", "arena.boxes"))
+        for function, names in ((forms.Game, "arena seats luck"), (forms.game_fault, "arena seats luck"), (boxes.are_meeting, "grown")):
+            found = [p.name for p in inspect.signature(function).parameters.values() if p.kind == inspect.Parameter.KEYWORD_ONLY]
+            self.assertEqual(found, names.split())
+        empty = inspect.Parameter.empty
+        defaults = [parameter.default for parameter in inspect.signature(forms.Game).parameters.values()]
+        self.assertEqual(defaults, [empty, empty, empty, empty, 2, 0])
+
+
+if __name__ == "__main__":
+    unittest.main()
