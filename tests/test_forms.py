@@ -164,7 +164,8 @@ class PiecesTest(unittest.TestCase):
             self.assertIsNone(at_e(e), e)
 
     def test_wrong_statements(self):
-        for piece in (5, (), None, True, [], "drop", ("own", "dx"), ("tick",), ("move",), ("for", "dot", ()), *JUNK):
+        for piece in (5, (), None, True, [], "drop", ("own", "dx"), ("tick",), ("move",), ("for", "dot", ()), ([], 1), ({}, 1),
+                      *JUNK):
             self.assertEqual(path_of((("drop", ""), piece, 5)), (1,), piece)
         for word in BAD_WORDS:
             self.assertEqual(path_of(((word, "dx", 1),)), (0,))
@@ -194,7 +195,9 @@ class PiecesTest(unittest.TestCase):
             self.assertEqual(path_of((("tell", code, 1),)), (0,))
 
     def test_pairs_of_make(self):
-        for pairs in (None, [], "x", (("x",),), (("x", 1, 1),), (["x", 1],), (5,), (("x", 1), ("x", 2)), ((1, "x"),)):
+        for kind in ("elf", "", [], None, 5):
+            self.assertEqual(path_of((("make", kind, (("x", 1),)),)), (0,), kind)
+        for pairs in (None, [], [("x", 1)], "x", (("x",),), (("x", 1, 1),), (["x", 1],), (5,), (("x", 1), ("x", 2)), ((1, "x"),)):
             self.assertEqual(path_of((("make", "coin", pairs),)), (0,), pairs)
         self.assertEqual(path_of((("make", "coin", (("x", 1), ("y", None), ("x", 1))),)), (0,))
         self.assertEqual(path_of((("make", "coin", (("x", 1), ("y", None))),)), (0, 2, 1, 1))
@@ -205,7 +208,7 @@ class PiecesTest(unittest.TestCase):
                  ("id", 1), ("plus", 1), ("plus", 1, 2, 3), ("not",), ("not", 1, 2), ("if", 1, 2), ("if", 1, 2, 3, 4),
                  ("count", "elf", "t", 1), ("count", "dot", "t"), ("count", "dot", "T", 1), ("meets", "t", 1),
                  ("draw",), ("key",), ("drop", ""), ("set", "dx", 1), 10 ** 9 + 1, -10 ** 9 - 1, ("var", ""), ("of", "", "dx"),
-                 ("meets", "", 1)]
+                 ("meets", "", 1), ([], 1), ({}, 1, 2)]
         wrong += [("key", bit) for bit in (-1, 6, *BAD_INTEGERS)] + [(word, 1, 1) for word in BAD_WORDS]
         wrong += [("draw", sides) for sides in (0, 1001, -1, *BAD_INTEGERS)]
         wrong += [("own", name) for name in BAD_NAMES] + [("var", name) for name in BAD_NAMES]
@@ -286,6 +289,11 @@ class NamesTest(unittest.TestCase):
         self.assertIsNone(path_of((("let", "v", 1), ("when", ("var", "v"), (tell,), (tell,)), tell)))
         self.assertEqual(path_of((("when", 1, (("let", "v", 1), tell), (tell,)),)), (0, 3, 0, 2))
         self.assertEqual(path_of((("when", 1, (("let", "v", 1),), ()), tell)), (1, 2))
+
+    def test_let_alone_makes_values_known(self):
+        self.assertIsNone(path_of((("set", "x", 1), ("let", "x", 2))))
+        self.assertEqual(path_of((("set", "x", 1), ("tell", 1, ("var", "x")))), (1, 2))
+        self.assertEqual(path_of((("let", "x", 1, 1), ("tell", 1, ("var", "x")))), (0,))
 
     def test_nothing_is_made_known_twice(self):
         let = ("let", "v", 1)
@@ -407,6 +415,11 @@ class GameTest(unittest.TestCase):
         for value in ("elf", *JUNK):
             self.assertEqual(error_of(game.fields, value), name_error(value))
             self.assertEqual(error_of(game.body, value), name_error(value))
+
+    def test_seats_and_luck_can_be_left_out(self):
+        self.assertIsNone(game_fault(KINDS, ENTRIES, START, arena=(12, 6)))
+        defaults = game_fault.__kwdefaults__
+        self.assertEqual((defaults, Game.__init__.__kwdefaults__), ({"seats": 2, "luck": 0},) * 2)
 
     def test_equality(self):
         base = dict(kinds=KINDS, entries=ENTRIES, start=START, arena=(12, 6), seats=2, luck=0)

@@ -201,6 +201,13 @@ class StatementsTest(unittest.TestCase):
         self.assertEqual(parts(record), {"reads": ((("ids", "coin"), ()), (("many",), 11), (("next",), 40)),
                                          "made": ((41, "coin", (1, 20, 0, 0)),), "makes": 2})
 
+    def test_what_is_done_to_things_made_and_dropped(self):
+        row = (("make", "coin", ()), ("each", "coin", "t", (("drop", "t"), ("give", "t", "x", 5), ("tell", 1, ("of", "t", "x")),
+                                                           ("tell", 2, ("meets", "t", 0)), ("drop", "t"))))
+        record = record_of(row, world=World(0, 9, 0, (HERO,)))
+        self.assertEqual(parts(record), {"reads": ((("ids", "coin"), ()), (("many",), 1), (("next",), 9)), "makes": 1,
+                                         "effects": ((1, 0), (2, 0))})
+
     def test_what_is_set_of_made_things(self):
         row = (("make", "dot", ()), ("each", "dot", "t", (("give", "t", "n", ("plus", 1, ("of", "t", "n"))),)))
         record = record_of(row)
@@ -260,7 +267,7 @@ class PlacesTest(unittest.TestCase):
         places = [("field", 1), ("field", 1, "x", 1), ("field", True, "x"), ("field", -1, "x"), ("field", "x", 1), ("field", 1, "X"),
                   ("field", 1, ""), ("kind",), ("kind", -1), ("kind", True), ("kind", "hero"), ("kind", 10 ** 60), ("ids",), ("ids", 1),
                   ("ids", "X"), ("ids", "abcdefghi"), ("many", 1), ("next", 1), ("key",), ("key", "a"), ("key", True), ("key", 10 ** 60),
-                  ("luck", 1), ("tick", 1), ("tock",), ["tick"], "tick", ("field", 10 ** 60, "x"), (("tick",),), (None,)]
+                  ("luck", 1), ("tick", 1), ("tock",), ["tick"], ([], 1), ({},), "tick", ("field", 10 ** 60, "x"), (("tick",),), (None,)]
         places = [(value, ("InvalidPlace",)) for value in places + list(JUNK)]
         check_order(self, value_at, (game_of(()), WORLD, JOINT, ("tick",)), (*WRONG, places))
 
@@ -294,6 +301,8 @@ class RefusedTest(unittest.TestCase):
     def test_records_of_other_games_have_the_form(self):
         record = (15, HUGE, ((("field", 3, "elf"), None), (("ids", "elf"), None), (("key", -5), None), (("kind", 3), None)), (), (), (), HUGE, ())
         self.assertIs(has_same_reads(game_of(()), WORLD, JOINT, record), False)
+        empty = (0, 0, ((("ids", "elf"), ()), (("key", 0), 63), (("many",), 0), (("tick",), HUGE)), (), (), (), 0, ((99, 10 ** 9),))
+        self.assertIs(has_same_reads(game_of(()), WORLD, JOINT, empty), False)
         after = put_on(game_of(()), WORLD, record)
         self.assertEqual((after.tick, after.next_id, after.luck, after.things), (30, 9 + HUGE, 77, WORLD.things))
 

@@ -199,7 +199,8 @@ class TextsTest(unittest.TestCase):
                  "0 2 0;0 box 03", "0 2 0;0 box -0", "0 2 0;0 box +3", "0 2 0;0 box --3", "0 2 0;0 box 3-", "0 2 0;0 box x",
                  "0 2 0;0 box 1000000001", "0 2 0;0 box -1000000001", "0 2 0;00 box 3", "0 2 0;-1 box 3", "0 2 0;2 box 3",
                  "0 2 0;1 box 3;0 box 3", "0 2 0;0 box 3;0 box 3", "0 2 0;0 box 1 2 3 4 5 6 7 8 9", "0 2 0;0 box 3;", "0 2 0,0 box 3",
-                 "0 2 0;0 box 3.0", "0 2 0;0 box 1_0", "1_0 20 0", "a 2 0", "0 a 0", "0 2 a", "0 2 0;a box 1",
+                 "0 2 0;0 box 3.0", "0 2 0;0 box 1_0", "1_0 20 0", "a 2 0", "0 a 0", "\u0663 4 0", "0 \u00b2 0", "0 2 0;0 box \u0663",
+                 "0 2 0;0 b\u00f6x 3", "0 2 a", "0 2 0;a box 1",
                  "0 2 0;0 box 99999999999999999999"]
         for text in wrong:
             self.assertEqual(error_of(read_world, text), ("InvalidWorld",), text)

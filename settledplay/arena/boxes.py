@@ -238,7 +238,9 @@ def move_all(game, world):
     for thing in body_ids(game, world):
         places = game.table[world.kind_of(thing)].places
         numbers = list(now.numbers(thing))
-        numbers[places["x"]], numbers[places["y"]] = behind_move(game, now, thing)
+        x, y = behind_move(game, now, thing)
+        numbers[places["x"]] = x
+        numbers[places["y"]] = y
         now = with_numbers(now, {thing: tuple(numbers)})
     return now
 

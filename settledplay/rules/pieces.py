@@ -140,7 +140,7 @@ def is_known_right(around, member, sort):
         return is_name(member) and around.known.get(member) == LET
     if sort == "body":
         return around.has_body(around.own) and around.has_body(around.kind_of(member))
-    if sort == "lost" and isinstance(member, str) and member == "":
+    if sort == "lost" and member == "":
         return True
     return around.kind_of(member) is not None
 

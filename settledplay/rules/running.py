@@ -150,7 +150,7 @@ def worth_key(run, part):
         return 0
     seat = run.field(run.thing, "seat")
     word = None if seat is None else run.read(("key", seat))
-    return 0 if word is None else word >> part[1] & 1
+    return 0 if word is None else (word >> part[1]) & 1
 
 
 def worth_tick(run, _):

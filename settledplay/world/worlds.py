@@ -8,8 +8,6 @@ from settledplay.rules.forms import MAX_FIELDS, MAX_THINGS, need_game
 
 # The longest tick and ids of which a text can tell.
 MOST_DIGITS = 4000
-# The digits of MOST and a sign ahead of them.
-MOST_NUMBER_SIGNS = 11
 
 
 class World:
@@ -236,7 +234,5 @@ def is_count(word):
 
 
 def is_signed(word):
-    """Whether a word has the digits of an integer that can be a number, with a sign if it is below 0."""
-    if len(word) > MOST_NUMBER_SIGNS or word == "-0":
-        return False
-    return is_count(word.removeprefix("-"))
+    """Whether a word has the digits of an integer, with a sign if it is below 0."""
+    return word != "-0" and is_count(word.removeprefix("-"))
