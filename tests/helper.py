@@ -3,6 +3,10 @@
 from random import Random
 
 from settledplay.errors import InvalidNumber, ParseError, PlayError, Refused, TooMany, UnknownName
+from settledplay.keep.ring import Ring
+from settledplay.net.bag import Bag
+from settledplay.play.keys import Setup
+from settledplay.play.timeline import Timeline
 from settledplay.rules.forms import Game
 from settledplay.world.worlds import World
 
@@ -18,6 +22,7 @@ ENTRIES = (
 )
 START = (("hero", (2, 2, 0, 0, 0)), ("hero", (8, 2, 0, 0, 1)), ("coin", (5, 2, 0, 0)))
 COINS = Game(KINDS, ENTRIES, START, arena=(12, 6))
+PAIR = Setup(COINS, window=3, delay=1, patience=2, silence=3)
 ROW = ((2, 0), (2, 1), (0, 65))
 
 
@@ -32,7 +37,7 @@ def deep(value, many):
 JUNK = (
     None, True, False, -1, 10 ** 60, -10 ** 60, 10 ** 99, -10 ** 99, "", "0", "a\nb", "~" * 3000, (), (1,), ((),),
     deep("a", 20), [], [0], [[]], {}, {"a": 1}, {0: ()}, (True, True), ("x", "y"), COINS, World(0, 0, 0, ()),
-    PlayError("x"),
+    PlayError("x"), PAIR, Ring(World(0, 0, 0, ())), Timeline(PAIR, 0), Bag(),
 )
 
 
@@ -264,6 +269,28 @@ class Dice:
     def joint(self, game):
         """A joint word."""
         return tuple(self.some(-1, 0, 1, 2, 63, 64, 127, self.random.randint(-1, 127)) for _ in range(game.seats))
+
+    def setup(self, game):
+        """A setup of the game."""
+        starters = (0, *[seat for seat in range(1, game.seats) if self.random.random() < 0.6])
+        guesses = tuple(self.some(0, 1, at, at) for at in range(64))
+        return Setup(game, window=self.random.randint(1, 12), delay=self.random.randint(0, 8), spacing=self.random.randint(1, 6),
+                     starters=self.some(None, starters, starters), lookers=self.random.randint(0, 2),
+                     guesses=self.some(None, guesses))
+
+    def match_row(self, setup, length):
+        """A row of the setup: each seat stays from some tick to some tick."""
+        columns = []
+        for seat in range(setup.seats):
+            begin = 0 if seat in setup.starters else self.some(0, 1, self.random.randint(0, length), length)
+            end = self.some(length, length, self.random.randint(0, length)) if seat else length
+            columns.append([self.some(0, 1, 2, 3, 63, 64, 65, 127, self.random.randint(0, 127)) if begin <= tick < end else -1
+                            for tick in range(length)])
+        return tuple(zip(*columns))
+
+    def own_words(self, first, length):
+        """Own words for some ticks."""
+        return {tick: self.random.randint(0, 3) for tick in range(first, first + length) if self.random.random() < 0.7}
 
     def near(self, world, joint):
         """A world and a joint word that are a little unlike, the same ids and kinds but for one at the most."""

@@ -7,8 +7,10 @@ import unittest
 
 from helper import error_of
 from settledplay.arena import boxes
-from settledplay.base import luck, numbers
-from settledplay.play import step
+from settledplay.base import luck, numbers, texts
+from settledplay.keep import parts, ring
+from settledplay.net import bag, letters
+from settledplay.play import again, keys, step, timeline
 from settledplay.rules import forms, runs
 from settledplay.world import worlds
 
@@ -19,11 +21,20 @@ VALUES = """
 >>> ENTRIES = (("for", "hero", (("set", "dx", ("minus", ("key", 1), ("key", 0))),)), ("move",), ("for", "coin", (GRAB,)))
 >>> START = (("hero", (2, 2, 0, 0, 0)), ("hero", (8, 2, 0, 0, 1)), ("coin", (5, 2, 0, 0)))
 >>> COINS = Game(KINDS, ENTRIES, START, arena=(12, 6))
+>>> PAIR = Setup(COINS, window=3, delay=1, patience=2, silence=3)
 >>> ROW = ((2, 0), (2, 1), (0, 65))
 """
-NUMBERS = """
+NUMBERS_AND_TEXTS = """
 >>> [clamped(-10 ** 12), worked("times", 100000, 100000), worked("over", -7, 2), worked("rest", -7, 2), worked("over", 5, 0)]
 [-1000000000, 1000000000, -4, 1, 0]
+>>> [text_of((1, "a:", None, (-30,))), value_of("t2:t0:s3:a b"), text_of("")]
+['t4:i1;s2:a:nt1:i-30;', ((), 'a b'), 's0:']
+>>> [framed("ab"), parted("f2:ab0293f0:0000"), parted("f2:ab0293f1:x"), parted("f2:ab0294")]
+['f2:ab0293', (('ab', ''), 'whole', 16), (('ab',), 'torn', 9), ((), 'bent', 0)]
+>>> value_of("t2:i1;i-0;")
+raises ParseError(8)
+>>> value_of("nn")
+raises ParseError(1)
 """
 LUCK = """
 >>> [next_luck(0), luck_ahead(271829), luck_ahead(0), next_luck(STILL) == STILL, luck_after(0, 3), luck_after(0, 10 ** 12), luck_before(776304030, 3)]
@@ -87,6 +98,69 @@ STEPS = """
 >>> plain(COINS, ((1,),))
 raises InvalidRow
 """
+AGAIN = """
+>>> OPEN = first_world(COINS)
+>>> STEP = step(COINS, OPEN, (2, 1))
+>>> [len(STEP[1]), again(COINS, STEP[1], OPEN, (2, 0))[3], again(COINS, STEP[1], OPEN, (2, 0))[:3] == step(COINS, OPEN, (2, 0))]
+[6, ((0, 1), (1, 1), (1, 2), (2, 2)), True]
+>>> [again(COINS, STEP[1], OPEN, word)[3] for word in ((2, 1), (6, 1), (-1, 1))]
+[(), ((0, 0),), ((0, 0), (1, 0), (1, 1), (1, 2), (2, 2))]
+>>> unlike_places(COINS, OPEN, (2, 1), STEP[0], (2, 0))
+(('field', 0, 'dx'), ('field', 0, 'x'), ('field', 1, 'dx'), ('field', 1, 'x'), ('key', 1), ('luck',), ('tick',))
+>>> changed_places(COINS, STEP[1][0])
+(('field', 0, 'dx'),)
+"""
+KEEP = """
+>>> ONE = World(4, 3, 9, ((0, "hero", (2, 2, 0, 0, 0)), (2, "coin", (5, 2, 0, 0))))
+>>> TWO = World(5, 4, 9, ((0, "hero", (3, 2, 1, 0, 0)), (3, "coin", (7, 1, 0, 0))))
+>>> STEP = difference(ONE, TWO)
+>>> [STEP, size(STEP), applied(ONE, STEP) == TWO]
+[(5, 4, 9, (2,), ((3, 'coin', (7, 1, 0, 0)),), ((0, 0, 3), (0, 2, 1))), 11, True]
+>>> RING = Ring(ONE, spacing=3).put(TWO)
+>>> [RING.wholes, RING.work(5), RING.world(5) == TWO, 6 in RING]
+[(4,), 1, True, False]
+>>> applied(TWO, STEP)
+raises Refused(('fit', 2))
+"""
+KEYS = """
+>>> SETUP = Setup(COINS)
+>>> [is_row(SETUP, ((0, 67), (1, -1))), is_row(SETUP, ((0, -1), (0, 3))), stay(SETUP, ((0, -1),), 1), guess(SETUP, ((0, 67),), 1)]
+[True, False, 'out', 3]
+>>> [used(SETUP, ((0, 67),), 0, {1: 2}, tick) for tick in (0, 1, 2)]
+[(0, 3), (2, 3), (0, 3)]
+>>> [joined(SETUP, ((0, 3),), 0, ((0, 3), (2, 3))), first_change(SETUP, ((0, 3),), ((0, 3), (2, 0)), 0, {1: 2}, 4)]
+[((0, 3), (2, 3)), 1]
+>>> joined(SETUP, ((0, 3),), 2, ((0, 3),))
+raises Refused(('hole', 1))
+"""
+TIMELINES = """
+>>> TWO = Timeline(PAIR, 0).pressed(2).advanced().pressed(2).advanced()
+>>> [str(TWO), TWO.own, TWO.used(1), TWO.shown_world.numbers(0)[0], TWO.shown_world.numbers(1)[0], TWO.reruns, TWO.advanced().effects_at(2)]
+['seat 0: 0 settled, 2 shown', {0: 2, 1: 2, 2: 2}, (2, 0), 4, 8, 0, ((1, 0),)]
+>>> THEN = TWO.told(0, ((2, 1),))
+>>> [str(THEN), THEN.own, THEN.used(1), THEN.shown_world.numbers(1)[0], THEN.reruns, THEN.told(1, ((2, 65),)).reruns]
+['seat 0: 1 settled, 2 shown', {1: 2, 2: 2}, (2, 1), 6, 2, 2]
+>>> viewed(PAIR, 0, ((2, 1),), {1: 2}, 2) == THEN.shown_world
+True
+>>> TWO.advanced().advanced()
+raises Refused(('full',))
+"""
+NET = """
+>>> KEYS, ROWS = ("keys", 1, 3, (0, 5), 77), ("rows", 1, 0, ((0, 5), (64, -1)))
+>>> [is_letter(KEYS), is_letter(("keys", 0, 3, (), 77)), is_letter(("rows", 1, 0, ((0, 128),))), goal(KEYS), goal(ROWS)]
+[True, False, False, -1, 1]
+>>> [letter_text(("word", 2, "go")), read_letter("t3:s4:wordi2;s4:come"), is_letter(("piece", 1, 4, 2, 2, "x"))]
+['t3:s4:wordi2;s2:go', ('word', 2, 'come'), False]
+>>> BAG = Bag((KEYS,)).sent(ROWS).sent(KEYS)
+>>> [len(BAG), BAG.to(HOST), BAG.to(1), BAG.letter(1) == ROWS, str(BAG), BAG == Bag((KEYS, ROWS, KEYS))]
+[3, (0, 2), (1,), True, 'bag of 3 letters', True]
+>>> [judged_handing(BAG, (1, 2, 0, 2)), judged_handing(BAG, (1, 0, 2)), judged_handing(BAG, ())]
+[((), (2,), (0,)), ((), (), ()), ((0, 1, 2), (), ())]
+>>> read_letter("i1;")
+raises InvalidLetter
+>>> BAG.letter(3)
+raises InvalidNumber(3)
+"""
 
 
 def names_of(*modules):
@@ -114,12 +188,12 @@ def told(test, block, names):
 
 class ExamplesTest(unittest.TestCase):
     def check(self, block, *modules):
-        values = names_of(forms)
+        values = names_of(forms, keys)
         told(self, VALUES, values)
         told(self, block, {**values, **names_of(*modules)})
 
-    def test_numbers(self):
-        self.check(NUMBERS, numbers)
+    def test_numbers_and_texts(self):
+        self.check(NUMBERS_AND_TEXTS, numbers, texts)
 
     def test_luck(self):
         self.check(LUCK, luck)
@@ -138,6 +212,21 @@ class ExamplesTest(unittest.TestCase):
 
     def test_steps(self):
         self.check(STEPS, step)
+
+    def test_again(self):
+        self.check(AGAIN, worlds, step, again)
+
+    def test_keep(self):
+        self.check(KEEP, worlds, parts, ring)
+
+    def test_keys(self):
+        self.check(KEYS, keys)
+
+    def test_timelines(self):
+        self.check(TIMELINES, timeline)
+
+    def test_net(self):
+        self.check(NET, letters, bag)
 
 
 if __name__ == "__main__":

@@ -12,16 +12,17 @@ import unittest
 
 ROOT = os.path.join(os.path.dirname(os.path.dirname(os.path.abspath(__file__))), "settledplay")
 BUILTINS = set("""len range enumerate zip min max sum abs sorted reversed int str bool list tuple dict set isinstance ord repr
-any all divmod iter ValueError KeyError IndexError LookupError ArithmeticError OverflowError TypeError NotImplemented""".split())
+any all divmod iter property ValueError KeyError IndexError LookupError ArithmeticError OverflowError TypeError
+NotImplemented""".split())
 METHODS = set("""append clear copy count endswith extend find get index insert isalnum isalpha isdigit islower isspace isupper
 items join keys ljust lower lstrip partition pop remove replace reverse rfind rjust rpartition rsplit rstrip setdefault split
-splitlines startswith strip update upper values zfill bit_length isascii removeprefix removesuffix""".split())
+splitlines startswith strip update upper values zfill bit_length isascii isprintable removeprefix removesuffix""".split())
 SPECIAL = set("__init__ __eq__ __repr__ __str__ __len__ __iter__ __contains__".split())
 BARRED = set("""register mro elements open input law version_info with_traceback add_note id type dir eval exec exit gc getattr
 hasattr globals help locals os quit setattr super sys vars compile breakpoint _record _outside _cold _written_out""".split())
 BARRED_WORDS = ("type", "typing", "enum", "Enum", "Flag", "Generic", "Protocol", "ABC", "namedtuple", "NamedTuple", "dataclass")
 STATEMENTS = (ast.Assign, ast.AugAssign, ast.If, ast.While, ast.For, ast.Return, ast.Break, ast.Continue, ast.Pass, ast.Raise,
-              ast.Expr, ast.FunctionDef, ast.Delete)
+              ast.Expr, ast.FunctionDef, ast.Delete, ast.Try)
 EXPRESSIONS = (ast.Constant, ast.Name, ast.Attribute, ast.Call, ast.BoolOp, ast.BinOp, ast.UnaryOp, ast.Compare, ast.IfExp,
                ast.Tuple, ast.List, ast.Dict, ast.Subscript, ast.Slice, ast.Starred, ast.ListComp, ast.DictComp, ast.SetComp,
                ast.JoinedStr, ast.FormattedValue, ast.Yield)
@@ -43,6 +44,17 @@ INTERFACE = {
     "arena.boxes": ("are_meeting/2 reach/5 reach_by_units/5 barrier/5 moved_box/5 box_of/3 solid_around/3 moved_thing/3"
                     " move_all/2 meeting_pairs/2", "", "SIDES MOST_UNITS"),
     "play.step": ("step/3 next_world/3 is_next/4 plain/2 plain_worlds/2 is_joint/2 is_row/2", "", ""),
+    "base.texts": ("is_plain/1 text_of/1 value_of/1 framed/1 parted/1", "", "MOST_TEXT MOST_LONG MOST_DEEP"),
+    "play.again": ("again/4 again_row/4 unlike_places/5 changed_places/2", "", ""),
+    "keep.parts": ("is_difference/1 difference/2 applied/2 size/1", "", ""),
+    "keep.ring": ("", "Ring.put Ring.world Ring.work Ring.back_to Ring.from_tick Ring.__contains__ Ring.__len__ Ring.__eq__", ""),
+    "play.keys": ("is_row/2 heard/1 stay/3 guess/3 used/5 joined/4 first_change/6", "Setup.__init__ Setup.__eq__",
+                  "AWAY MOST_WORD FILLED MAX_WINDOW MAX_DELAY"),
+    "play.timeline": ("viewed/5", "Timeline.used Timeline.world_at Timeline.effects_at Timeline.pressed Timeline.advanced"
+                                  " Timeline.told Timeline.__eq__ Timeline.__str__", ""),
+    "net.letters": ("is_letter/1 goal/1 letter_text/1 read_letter/1", "",
+                    "HOST MOST_SEAT MOST_WORDS MOST_STRETCH MOST_PIECES MOST_PIECE"),
+    "net.bag": ("judged_handing/2", "Bag.sent Bag.sent_all Bag.letter Bag.to Bag.__len__ Bag.__eq__ Bag.__str__", ""),
 }
 
 
@@ -133,7 +145,10 @@ class LanguageTest(unittest.TestCase):
         others = (ast.stmt, ast.expr)
         let = STATEMENTS + EXPRESSIONS + (ast.ClassDef, ast.ImportFrom)
         self.where("L6, L7", lambda n: isinstance(n, others) and not isinstance(n, let))
-        self.where("L4, L5 decorators", lambda n: getattr(n, "decorator_list", []))
+        self.where("L4, L5 decorators", lambda n: [part for part in getattr(n, "decorator_list", [])
+                                                   if not isinstance(part, ast.Name) or part.id != "property"])
+        self.where("L19 handlers", lambda n: isinstance(n, ast.ExceptHandler)
+                   and (not isinstance(n.type, ast.Name) or n.type.id in dir(builtins)))
         self.where("L7 floats", lambda n: isinstance(n, ast.Constant) and isinstance(n.value, (float, complex, bytes)))
         self.where("L7 division", lambda n: isinstance(n, (ast.Div, ast.MatMult)))
         self.where("L20", lambda n: isinstance(n, ast.Compare) and isinstance(n.ops[0], (ast.Is, ast.IsNot))

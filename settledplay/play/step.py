@@ -4,7 +4,7 @@ from settledplay.base.luck import following
 from settledplay.rules.forms import need_game
 from settledplay.rules.joints import is_joint_of, is_row_of, need_joint, need_row
 from settledplay.rules.running import record_of
-from settledplay.rules.runs import behind, ids_to_run
+from settledplay.rules.runs import behind, has_values, ids_to_run
 from settledplay.world.worlds import World, first_world, need_world_of, world_of
 
 
@@ -17,17 +17,35 @@ def step(game, world, joint):
 
 def stepped(game, world, joint):
     """The step for sure arguments."""
+    return step_with(game, world, joint, {})[:3]
+
+
+def step_with(game, world, joint, told):
+    """The step for sure arguments, and the entries and ids of the runs for which no told record could be put on.
+
+    The records are told by their entries and ids.
+    """
     now = world
     records = []
+    anew = []
     for entry in range(len(game.entries)):
         for thing in ids_to_run(game, now, entry):
             # A run of the same entry can have dropped it.
-            if thing in now:
+            if thing not in now:
+                continue
+            record = told.get((entry, thing))
+            if record is None or not has_values(game, now, joint, record[2]):
                 record = record_of(game, now, joint, entry, thing)
-                records.append(record)
-                now = behind(game, now, record)
+                anew.append((entry, thing))
+            records.append(record)
+            now = behind(game, now, record)
     after = world_of(now.tick + 1, now.next_id, following(now.luck), now.things)
-    return (after, tuple(records), tuple([effect for record in records for effect in record[7]]))
+    return (after, tuple(records), effects_of_records(records), tuple(anew))
+
+
+def effects_of_records(records):
+    """The effects that runs told, in their sequence."""
+    return tuple([effect for record in records for effect in record[7]])
 
 
 def next_world(game, world, joint):

@@ -87,6 +87,11 @@ def can_be_put(game, world, joint, record):
     entry, thing, reads = record[:3]
     if not is_index(game, entry) or not can_run(game, world, entry, thing):
         return False
+    return has_values(game, world, joint, reads)
+
+
+def has_values(game, world, joint, reads):
+    """Whether all places that were read have the values that were read."""
     return all([place_value(game, world, joint, place) == value for place, value in reads])
 
 

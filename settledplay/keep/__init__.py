@@ -1,0 +1,1 @@
+"""Differences of worlds, and rings of kept worlds."""

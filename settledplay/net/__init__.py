@@ -1,0 +1,1 @@
+"""Letters between machines, and the bag that has them."""
