@@ -578,3 +578,18 @@ def overlap(one, other):
         return False
     apart = one[0] + one[2] <= other[0] or other[0] + other[2] <= one[0]
     return not (apart or one[1] + one[3] <= other[1] or other[1] + other[3] <= one[1])
+
+
+def naive_used(setup, row, seat, own, tick):
+    """Used words as they are told."""
+    words = []
+    for at in range(setup.seats):
+        if tick < len(row):
+            words.append(-1 if row[tick][at] == -1 else row[tick][at] & 63)
+        elif (row[-1][at] == -1) if row else at not in setup.starters:
+            words.append(-1)
+        elif at == seat:
+            words.append(own[tick] if tick in own else 0)
+        else:
+            words.append(setup.guesses[row[-1][at] & 63 if row else 0])
+    return tuple(words)

@@ -244,13 +244,19 @@ class InterfaceTest(unittest.TestCase):
                 self.assertTrue(hasattr(module, word), word)
 
     def test_keywords(self):
-        forms, boxes = (importlib.import_module("settledplay." + name) for name in ("rules.forms", "arena.boxes"))
-        for function, names in ((forms.Game, "arena seats luck"), (forms.game_fault, "arena seats luck"), (boxes.are_meeting, "grown")):
-            found = [p.name for p in inspect.signature(function).parameters.values() if p.kind == inspect.Parameter.KEYWORD_ONLY]
-            self.assertEqual(found, names.split())
-        empty = inspect.Parameter.empty
-        defaults = [parameter.default for parameter in inspect.signature(forms.Game).parameters.values()]
-        self.assertEqual(defaults, [empty, empty, empty, empty, 2, 0])
+        told = {"rules.forms.Game": "arena seats=2 luck=0", "rules.forms.game_fault": "arena seats=2 luck=0", "arena.boxes.are_meeting": "grown=0",
+                "keep.ring.Ring": "spacing=2", "play.keys.Setup": "window=4 delay=2 spacing=2 patience=3 silence=6 starters=None lookers=0 guesses=None"}
+        for path, names in told.items():
+            module, _, name = path.rpartition(".")
+            function = getattr(importlib.import_module("settledplay." + module), name)
+            found = [parameter for parameter in inspect.signature(function).parameters.values() if parameter.kind == inspect.Parameter.KEYWORD_ONLY]
+            self.assertEqual([str(parameter) for parameter in found], names.split(), path)
+
+    def test_defaults_of_others(self):
+        for path, names in (("play.timeline.Timeline", ["setup", "seat", "world=None"]), ("net.bag.Bag", ["letters=()"])):
+            module, _, name = path.rpartition(".")
+            function = getattr(importlib.import_module("settledplay." + module), name)
+            self.assertEqual([str(parameter) for parameter in inspect.signature(function).parameters.values()], names)
 
 
 if __name__ == "__main__":
