@@ -243,6 +243,13 @@ class FirstChangeTest(unittest.TestCase):
         self.assertEqual(first_change(LATE, ((0, -1),), ((0, -1), (0, 4)), 1, {5: 3}, far), 1)
         self.assertEqual(first_change(PAIR, ((0, 0),), ((0, 0), (5, 0)), 0, {}, 1), None)
 
+    def test_a_change_at_the_end_of_the_later_row(self):
+        # What comes is what was guessed, but another word is guessed behind it.
+        setup = Setup(COINS, guesses=tuple((word + 1) % 64 for word in range(64)))
+        for seat, own in ((None, {}), (0, {1: 1})):
+            for stop, tick in ((1, None), (2, None), (3, 2), (10 ** 59, 2)):
+                self.assertEqual(first_change(setup, ((0, 0),), ((0, 0), (1, 65)), seat, own, stop), tick)
+
     def test_a_later_row_that_is_none(self):
         for later in ((), ROW[:2], ((0, 3), (65, 66), (2, -1)), ((0, 3), (1, 3), (2, -1), (2, -1)), ((0, 3), (65, 67), (2, 3))):
             self.assertEqual(error_of(first_change, PAIR, ROW, later, 0, {}, 9), ("InvalidOperation",))

@@ -107,6 +107,7 @@ class TextsTest(unittest.TestCase):
     def test_spots(self):
         for text, spot in (("", 0), ("nn", 1), ("t2:i1;i-0;", 8), ("i", 1), ("i-", 2), ("i-0", 2), ("i00;", 2), ("i1", 2), ("i+1;", 1),
                            ("i01;", 2), ("i;", 1), ("i" + "9" * 60, 61), ("i" + "9" * 61, 61), ("i-" + "9" * 61 + ";", 62),
+                           ("i1" + "0" * 60 + ";", 61), ("i-1" + "0" * 60 + ";", 62), ("i" + "1" * 19000, 61), ("s" + "1" * 19000, 5), ("t" + "1" * 19000 + ":", 5),
                            ("s", 1), ("s00:", 2), ("s01:a", 2), ("s2001:", 4), ("s2000:x", 7), ("s3000:", 4), ("s20000:", 5),
                            ("s20000", 5), ("s3:ab", 5), ("s1:abc", 4), ("s-1:", 1), ("s:", 1), ("t", 1), ("t2:n", 4), ("t1:x", 3), ("t01:n", 2),
                            ("t2001:", 4), ("t2000:", 6), ("t-1:", 1), ("t1:t1:t1:n;", 10), ("t1:t1:t1:nn", 10), ("x", 0), (" n", 0), ("n ", 1),
@@ -216,7 +217,7 @@ class FramesTest(unittest.TestCase):
                            ("f00:0000", "bent"), ("f02:ab0293", "bent"), ("f2:ab029", "torn"), ("f2:ab0294", "bent"), ("f2:ab03", "bent"),
                            ("f2:", "torn"), ("f20000", "torn"), ("f20001", "bent"), ("f200000", "bent"), ("f20000:x", "torn"), ("f20001:x", "bent"),
                            ("f19999:xx", "torn"), ("f-1:", "bent"), ("f:", "bent"), (":", "bent"), ("f 2:ab0293", "bent"), ("F2:ab0293", "bent"),
-                           ("x", "bent"), (" ", "bent"), ("ff", "bent"), ("f2;ab0293", "bent"), ("f2:ab 293", "bent"), ("2:ab0293", "bent")):
+                           ("x", "bent"), (" ", "bent"), ("ff", "bent"), ("f" + "1" * 19000, "bent"), ("f" + "1" * 19000 + ":", "bent"), ("f2;ab0293", "bent"), ("f2:ab 293", "bent"), ("2:ab0293", "bent")):
             self.assertEqual(parted(text), ((), word, 0), text)
             for more in ("", "abc", "f1:x"):
                 self.assertEqual(parted(framed(more) + text), ((more,), word, len(framed(more))), text)
