@@ -15,6 +15,10 @@ MOST_STRETCH = 32
 MOST_PIECES = 100
 MOST_PIECE = 200
 
+WISHES = ("come", "go")
+# The letters that the host is to hear.
+TO_HOST = ("keys", "word")
+
 
 def is_keys_letter(value):
     """Whether what follows the word and the seat is that of a keys letter."""
@@ -58,15 +62,12 @@ def is_word_letter(value):
     return len(value) == 3 and isinstance(value[2], str) and value[2] in WISHES
 
 
-WISHES = ("come", "go")
 FORMS = {
     "keys": is_keys_letter,
     "rows": is_rows_letter,
     "piece": is_piece_letter,
     "word": is_word_letter,
 }
-# The letters that the host is to hear.
-TO_HOST = ("keys", "word")
 
 
 def is_letter(value):
