@@ -188,6 +188,21 @@ class LanguageTest(unittest.TestCase):
                 self.assertIsInstance(node.func, ast.Name, f"{path}:{node.lineno}")
                 self.assertIn(node.func.id, own | {"action"}, f"{path}:{node.lineno}")
 
+    def test_properties(self):
+        """An attribute that some class assigns has a name that no class has as a property without a setter."""
+        read, settable = set(), set()
+        for path, node in NODES:
+            for part in getattr(node, "decorator_list", []):
+                if isinstance(part, ast.Name) and part.id == "property":
+                    read.add(node.name)
+                if isinstance(part, ast.Attribute) and part.attr == "setter":
+                    settable.add(node.name)
+        self.assertIn("own", read)
+        self.where("L5 properties", lambda n: isinstance(n, ast.Attribute) and not isinstance(n.ctx, ast.Load)
+                   and n.attr in read - settable)
+        methods = {name for _, cls in NODES if isinstance(cls, ast.ClassDef) for name in plain_methods(cls)}
+        self.assertFalse(read & (methods | METHODS), "L5 properties")
+
     def test_classes(self):
         stored = {node.attr for _, node in NODES if isinstance(node, ast.Attribute) and isinstance(node.ctx, ast.Store)}
         for path, node in NODES:
@@ -200,6 +215,12 @@ class LanguageTest(unittest.TestCase):
                 self.assertFalse(mine & set(names), f"L18 {path}")
             if isinstance(node, ast.Attribute) and isinstance(node.ctx, ast.Load):
                 self.assertIn(node.attr, stored | OWN_METHODS | METHODS, f"L18 {path}:{node.lineno}")
+
+
+def plain_methods(cls):
+    """The names of the methods of a class that are no properties."""
+    return [part.name for part in cls.body if isinstance(part, ast.FunctionDef)
+            and not any(isinstance(over, ast.Name) and over.id == "property" for over in part.decorator_list)]
 
 
 def is_plain(value):

@@ -41,9 +41,9 @@ LET = ""
 class Around:
     """What is known where a piece stands: the kinds, the own kind, names, and within how many loops it is."""
 
-    def __init__(self, kinds, own, known, depth):
+    def __init__(self, kinds, kind, known, depth):
         self.kinds = kinds
-        self.own = own
+        self.kind = kind
         self.known = known
         self.depth = depth
 
@@ -51,11 +51,11 @@ class Around:
         """The same place, with a further name known."""
         known = dict(self.known)
         known[name] = kind
-        return Around(self.kinds, self.own, known, self.depth)
+        return Around(self.kinds, self.kind, known, self.depth)
 
     def deeper(self):
         """The same names within one loop more."""
-        return Around(self.kinds, self.own, self.known, self.depth + 1)
+        return Around(self.kinds, self.kind, self.known, self.depth + 1)
 
     def kind_of(self, name):
         """The kind of the thing that is known by the name, None if none is."""
@@ -124,7 +124,7 @@ def is_member(site, member, sort):
     if sort == "kind":
         return is_name(member) and member in around.kinds
     if sort == "own":
-        return around.has_field(around.own, member)
+        return around.has_field(around.kind, member)
     if sort == "field":
         return around.has_field(around.kind_of(site.piece[1]), member)
     if sort == "pairs":
@@ -139,7 +139,7 @@ def is_known_right(around, member, sort):
     if sort == "let":
         return is_name(member) and around.known.get(member) == LET
     if sort == "body":
-        return around.has_body(around.own) and around.has_body(around.kind_of(member))
+        return around.has_body(around.kind) and around.has_body(around.kind_of(member))
     if sort == "lost" and member == "":
         return True
     return around.kind_of(member) is not None
