@@ -2,13 +2,21 @@
 
 from random import Random
 
+from settledplay.disk.book import Disk
 from settledplay.errors import InvalidNumber, ParseError, PlayError, Refused, TooMany, UnknownName
 from settledplay.keep.ring import Ring
+from settledplay.match.effects import Ear
+from settledplay.match.match import Standing
 from settledplay.net.bag import Bag
 from settledplay.play.keys import Setup
+from settledplay.play.step import next_world
 from settledplay.play.timeline import Timeline
 from settledplay.rules.forms import Game
-from settledplay.world.worlds import World
+from settledplay.seat.host import Host
+from settledplay.seat.joining import Gathering
+from settledplay.seat.player import Player
+from settledplay.tape.tapes import Seeker, Tape
+from settledplay.world.worlds import World, first_world, world_text
 
 MODULUS = 999999937
 
@@ -37,7 +45,8 @@ def deep(value, many):
 JUNK = (
     None, True, False, -1, 10 ** 60, -10 ** 60, 10 ** 99, -10 ** 99, "", "0", "a\nb", "~" * 3000, (), (1,), ((),),
     deep("a", 20), [], [0], [[]], {}, {"a": 1}, {0: ()}, (True, True), ("x", "y"), COINS, World(0, 0, 0, ()),
-    PlayError("x"), PAIR, Ring(World(0, 0, 0, ())), Timeline(PAIR, 0), Bag(),
+    PlayError("x"), PAIR, Ring(World(0, 0, 0, ())), Timeline(PAIR, 0), Bag(), Host(PAIR), Disk(), Gathering(PAIR, 1), Player(PAIR, 1),
+    Standing(PAIR), Ear(), Tape(COINS, ()), Seeker(Tape(COINS, ())),
 )
 
 
@@ -277,6 +286,36 @@ class Dice:
         return Setup(game, window=self.random.randint(1, 12), delay=self.random.randint(0, 8), spacing=self.random.randint(1, 6),
                      starters=self.some(None, starters, starters), lookers=self.random.randint(0, 2),
                      guesses=self.some(None, guesses))
+
+    def small_setup(self, game):
+        """A setup with small numbers, so that much happens within few acts."""
+        starters = (0, *[seat for seat in range(1, game.seats) if self.random.random() < 0.6])
+        return Setup(game, window=self.random.randint(1, 5), delay=self.random.randint(0, 4), spacing=self.random.randint(1, 6),
+                     patience=self.random.randint(1, 4), silence=self.random.randint(1, 4), starters=starters,
+                     lookers=self.random.randint(0, 2), guesses=self.some(None, None, tuple(at ^ 1 for at in range(64))))
+
+    def act(self, setup, letters, falls=True):
+        """An act that a standing of a setup with so many letters can take."""
+        most = setup.seats + setup.lookers - 1
+        place = self.random.randint(min(1, most), most)
+        words = ["host"] * 4 + ["beat"] * 5 * (most > 0) + ["tell"] * 3 + ["hand"] * 6 * (letters > 0)
+        words += ["come", "come", "go"] * (most > 0) * self.some(0, 0, 0, 1) + ["fall"] * falls
+        word = self.some(*words)
+        if word in ("host", "beat"):
+            return ("beat", 0 if word == "host" else place, self.random.randint(0, 3))
+        if word == "hand":
+            return ("hand", max(0, letters - 1 - self.random.randrange(self.some(3, 9, letters))))
+        if word == "fall":
+            return ("fall", self.some(0, 0, 1, 2, 1000), self.some(0, 0, 1, 3, 6, 1000))
+        return ("tell",) if word == "tell" else (word, place)
+
+    def schedule(self, setup, length, falls=True):
+        """Acts that can be done one behind the other."""
+        standing, acts = Standing(setup), []
+        for _ in range(length):
+            acts.append(self.act(setup, len(standing.bag), falls))
+            standing = standing.after(acts[-1])
+        return tuple(acts)
 
     def match_row(self, setup, length):
         """A row of the setup: each seat stays from some tick to some tick."""
@@ -593,3 +632,315 @@ def naive_used(setup, row, seat, own, tick):
         else:
             words.append(setup.guesses[row[-1][at] & 63 if row else 0])
     return tuple(words)
+
+
+def naive_stay(setup, row, seat):
+    """How a seat stands behind a row."""
+    column = [seat in setup.starters, *[joint[seat] != -1 for joint in row]]
+    if column[-1]:
+        return "in"
+    return "out" if any(column) else "ahead"
+
+
+def naive_print(text):
+    """The print of a text, as one sum."""
+    return sum(ord(sign) * 31 ** (len(text) - 1 - at) for at, sign in enumerate(text)) % MODULUS
+
+
+class NaiveLine:
+    """A timeline that makes its worlds anew whenever they are asked for."""
+
+    def __init__(self, setup, seat, world, memo):
+        self.setup, self.seat, self.start, self.base, self.memo = setup, seat, world, world.tick, memo
+        self.row, self.own, self.shown = (), {}, world.tick
+
+    @property
+    def settled(self):
+        return self.base + len(self.row)
+
+    def press(self, word):
+        last = self.shown + self.setup.delay
+        if naive_stay(self.setup, self.row, self.seat) == "ahead":
+            last = self.settled + self.setup.window + self.setup.delay - 1
+        for tick in range(self.settled, last + 1):
+            self.own.setdefault(tick, word)
+
+    def tell(self, first, words):
+        if first > self.settled:
+            return
+        have = range(max(first, self.base), min(first + len(words), self.settled))
+        if any(words[tick - first] != self.row[tick - self.base] for tick in have):
+            return
+        self.row += words[self.settled - first:]
+        self.own = {tick: word for tick, word in self.own.items() if tick >= self.settled}
+        self.shown = max(self.shown, self.settled - self.setup.delay)
+
+    def used(self, tick):
+        at, many = tick - self.base, len(self.row)
+        return naive_used(self.setup, self.row, self.seat, {many: self.own.get(tick, 0)}, min(at, many))
+
+    def world(self, tick):
+        """The world of a tick; each one is made once, as the same ones are asked for again and again."""
+        words, world = [], self.start
+        for at in range(self.base, tick):
+            words.append(self.used(at))
+            key = (world_text(self.start), tuple(words))
+            if key not in self.memo:
+                self.memo[key] = next_world(self.setup.game, world, words[-1])
+            world = self.memo[key]
+        return world
+
+
+class NaiveHost:
+    """A host as it is told, that changes in place."""
+
+    def __init__(self, setup, memo):
+        self.setup, self.memo = setup, memo
+        self.begin((), first_world(setup.game))
+
+    def begin(self, row, world):
+        """Begin behind a row whose plain world this is."""
+        self.closed = self.row = row
+        self.line = NaiveLine(self.setup, 0, world, self.memo)
+        self.waiting, self.marks, self.offers, self.idle, self.goers = {}, {}, {}, 0, set()
+
+    def stay(self, seat):
+        return naive_stay(self.setup, self.closed, seat)
+
+    def entry(self, seat, patience_is_over):
+        """The entry of a seat for the next tick, None if it lacks."""
+        tick = len(self.closed)
+        word = self.line.own.get(tick) if seat == 0 else self.waiting.get((seat, tick))
+        last = [joint[seat] for joint in self.closed]
+        if seat == 0:
+            return word
+        if self.stay(seat) == "out":
+            return -1
+        if self.stay(seat) == "ahead":
+            return -1 if word is None else word
+        silence = self.setup.silence
+        if seat in self.goers or (tick >= silence and min(last[-silence:]) >= 64):
+            return -1
+        if word is None and patience_is_over:
+            return 64 + (last[-1] & 63 if last else 0)
+        return word
+
+    def close(self, patience_is_over):
+        """Close the next tick, if this can be done."""
+        joint = tuple(self.entry(seat, patience_is_over) for seat in range(self.setup.seats))
+        if None in joint:
+            return False
+        self.closed += (joint,)
+        return True
+
+    def beat(self, word):
+        line, many = self.line, len(self.closed)
+        if line.shown - line.settled < self.setup.window:
+            line.press(word)
+            line.shown += 1
+        while self.close(False):
+            pass
+        if len(self.closed) == many:
+            self.idle += 1
+            if self.idle >= self.setup.patience and self.close(True):
+                while self.close(False):
+                    pass
+        if len(self.closed) > many:
+            self.idle = 0
+        self.forget()
+
+    def forget(self):
+        """Let go what waits no more."""
+        self.waiting = {(seat, tick): word for (seat, tick), word in self.waiting.items()
+                        if tick >= len(self.closed) and self.stay(seat) != "out"}
+        self.goers = {seat for seat in self.goers if self.stay(seat) == "in"}
+
+    def tell(self):
+        self.line.tell(len(self.row), self.closed[len(self.row):])
+        self.row = self.closed
+
+    def hear(self, letter):
+        place = letter[1]
+        is_seat = place < self.setup.seats
+        is_in = is_seat and self.stay(place) == "in"
+        if letter[0] == "keys":
+            self.marks[place] = max(self.marks.get(place, 0), min(letter[2], len(self.row)))
+            self.offers.pop(place, None)
+            for tick, word in enumerate(letter[3], letter[2]):
+                if is_seat:
+                    self.waiting.setdefault((place, tick), word)
+            self.forget()
+        elif letter[2] == "come" and not is_in and place not in self.offers:
+            self.offers[place] = self.line.world(self.line.settled)
+        elif letter[2] == "go" and is_in:
+            self.goers.add(place)
+
+    def mail(self):
+        letters = []
+        for place in range(1, self.setup.seats + self.setup.lookers):
+            mark = self.marks.get(place, 0)
+            if place in self.offers:
+                letters += naive_offer(place, self.offers[place])
+            elif place in self.marks or (place < self.setup.seats and self.stay(place) == "in"):
+                letters.append(("rows", place, mark, self.row[mark:][:2 * self.setup.window + self.setup.delay]))
+        return tuple(letters)
+
+    def told(self):
+        """All properties of the host."""
+        waiting = {}
+        for seat, tick in sorted(self.waiting):
+            waiting.setdefault(seat, {})[tick] = self.waiting[seat, tick]
+        return (self.closed, self.row, waiting, dict(sorted(self.marks.items())), dict(sorted(self.offers.items())), self.idle,
+                tuple(sorted(self.goers)))
+
+
+def naive_offer(place, world):
+    """The letters of an offer."""
+    text, pieces = world_text(world), []
+    while text:
+        pieces.append(text[:200])
+        text = text[200:]
+    return [("piece", place, world.tick, at, len(pieces), piece) for at, piece in enumerate(pieces)]
+
+
+def told_of_host(host):
+    """The properties of a host as NaiveHost tells them."""
+    return (host.closed, host.row, host.waiting, host.marks, host.offers, host.idle, host.goers)
+
+
+def orders_of(value):
+    """A dict, and those in it, as lists, so that their order counts."""
+    return [(key, orders_of(item)) for key, item in value.items()] if isinstance(value, dict) else value
+
+
+def check_line(test, line, naive):
+    """A timeline is what the naive one is."""
+    test.assertEqual((line.seat, line.base, line.row, line.settled, line.own, line.shown),
+                     (naive.seat, naive.base, naive.row, naive.settled, naive.own, naive.shown))
+    test.assertEqual((line.settled_world, line.shown_world), (naive.world(naive.settled), naive.world(naive.shown)))
+
+
+class NaiveMachine:
+    """The machine of a place from 1 on as it is told, that changes in place."""
+
+    def __init__(self, setup, place, memo):
+        self.setup, self.place, self.memo = setup, place, memo
+        self.seat = place if place < setup.seats else None
+        self.state, self.line, self.pieces = "away", None, None
+        if place in setup.starters:
+            self.state, self.line = "there", NaiveLine(setup, place, first_world(setup.game), memo)
+
+    def wish(self, word):
+        """Come or go; the letters that say so."""
+        former = self.state
+        if word == "come" and former == "away":
+            self.state, self.pieces = "coming", (None, 0, {})
+            return [("word", self.place, "come")]
+        if word == "go" and former in ("coming", "there"):
+            self.state, self.line, self.pieces = "gone", None, None
+            return [("word", self.place, "go")] if former == "there" else []
+        return []
+
+    def beat(self, word):
+        """A beat; the letters that are sent."""
+        if self.state == "coming":
+            return [("word", self.place, "come")]
+        if self.state != "there":
+            return []
+        line = self.line
+        if line.shown - line.settled < self.setup.window:
+            if self.seat is not None and naive_stay(self.setup, line.row, self.seat) != "out":
+                line.press(word)
+            line.shown += 1
+        return [self.letter()]
+
+    def letter(self):
+        line = self.line
+        words = tuple(line.own[tick] for tick in sorted(line.own))
+        return ("keys", self.place, line.settled, words, naive_print(world_text(line.world(line.settled))))
+
+    def hear(self, letter):
+        if letter[0] == "rows" and self.state == "there":
+            self.line.tell(letter[2], letter[3])
+        if letter[0] == "piece" and self.state == "coming":
+            tick, many, texts = self.pieces
+            if tick is None or letter[2] > tick:
+                tick, many, texts = letter[2], letter[4], {}
+            if letter[2] == tick and letter[4] == many:
+                texts.setdefault(letter[3], letter[5])
+            self.pieces = (tick, many, texts)
+            if len(texts) == many:
+                head, *things = [part.split(" ") for part in "".join(texts[at] for at in range(many)).split(";")]
+                world = World(*map(int, head), tuple((int(at), kind, tuple(map(int, numbers))) for at, kind, *numbers in things))
+                self.state, self.line, self.pieces = "there", NaiveLine(self.setup, self.seat, world, self.memo), None
+
+
+class NaiveMatch:
+    """A standing as it is told, that changes in place."""
+
+    def __init__(self, setup):
+        self.setup, self.memo = setup, {}
+        self.host = NaiveHost(setup, self.memo)
+        self.machines = [NaiveMachine(setup, place, self.memo) for place in range(1, setup.seats + setup.lookers)]
+        self.blocks, self.sure, self.letters = [], 0, []
+
+    def act(self, act):
+        word = act[0]
+        if word == "tell":
+            self.sure = len(self.blocks)
+            self.host.tell()
+            self.letters += self.host.mail()
+        elif word == "fall":
+            self.fall(act[1], act[2])
+        elif word == "hand":
+            letter = self.letters[act[1]]
+            (self.host if letter[0] in ("keys", "word") else self.machines[letter[1] - 1]).hear(letter)
+        elif word == "beat" and act[1] == 0:
+            many = len(self.host.closed)
+            self.host.beat(act[2])
+            for tick, joint in list(enumerate(self.host.closed))[many:]:
+                self.blocks.append(str(tick) + ":" + ",".join(map(str, joint)) + ";")
+        elif word == "beat":
+            self.letters += self.machines[act[1] - 1].beat(act[2])
+        else:
+            self.letters += self.machines[act[1] - 1].wish(word)
+
+    def fall(self, many, signs):
+        """Some blocks are gone, one can be torn; the row is read off those that are whole."""
+        end = self.sure + many
+        self.blocks = [block for block in self.blocks[:end] + [block[:signs] for block in self.blocks[end:][:1]] if block]
+        self.sure = len(self.blocks)
+        row = ()
+        for block in self.blocks:
+            if block.startswith(f"{len(row)}:") and block.endswith(";"):
+                row += (tuple(map(int, block[:-1].partition(":")[2].split(","))),)
+        world = first_world(self.setup.game)
+        for joint in row:
+            world = next_world(self.setup.game, world, joint)
+        self.host.begin(row, world)
+
+    def check(self, test, standing):
+        """A standing is what this is."""
+        test.assertEqual((standing.disk.blocks, standing.disk.sure), (tuple(self.blocks), self.sure))
+        self.check_host(test, standing.host)
+        test.assertEqual((standing.row, standing.bag.letters), (self.host.row, tuple(self.letters)))
+        test.assertEqual([player.place for player in standing.players], [machine.place for machine in self.machines])
+        for player, machine in zip(standing.players, self.machines):
+            self.check_machine(test, player, machine)
+
+    def check_host(self, test, host):
+        test.assertEqual(told_of_host(host), self.host.told())
+        test.assertEqual([orders_of(part) for part in told_of_host(host)], [orders_of(part) for part in self.host.told()])
+        test.assertEqual(host.mail(), self.host.mail())
+        check_line(test, host.timeline, self.host.line)
+
+    def check_machine(self, test, player, machine):
+        test.assertEqual((player.seat, player.state), (machine.seat, machine.state))
+        test.assertEqual((player.timeline is None, player.gathering is None), (machine.line is None, machine.pieces is None))
+        if machine.line:
+            check_line(test, player.timeline, machine.line)
+            test.assertEqual(player.letter(), machine.letter())
+        if machine.pieces:
+            test.assertEqual((player.gathering.tick, player.gathering.many, player.gathering.pieces), machine.pieces)
+        is_waiting = machine.line is not None and machine.line.shown - machine.line.settled == self.setup.window
+        test.assertIs(player.is_waiting, is_waiting)

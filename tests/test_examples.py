@@ -8,10 +8,15 @@ import unittest
 from helper import error_of
 from settledplay.arena import boxes
 from settledplay.base import luck, numbers, texts
+from settledplay.check import prints
+from settledplay.disk import book
 from settledplay.keep import parts, ring
+from settledplay.match import bounds, effects, match
 from settledplay.net import bag, letters
 from settledplay.play import again, keys, step, timeline
 from settledplay.rules import forms, runs
+from settledplay.seat import host, joining, player
+from settledplay.tape import tapes
 from settledplay.world import worlds
 
 VALUES = """
@@ -161,6 +166,111 @@ raises InvalidLetter
 >>> BAG.letter(3)
 raises InvalidNumber(3)
 """
+HOSTS = """
+>>> HOST = Host(PAIR).beat(2)
+>>> [HOST.closed, HOST.idle, HOST.timeline.own, HOST.mail()]
+[(), 1, {0: 2, 1: 2}, (('rows', 1, 0, ()),)]
+>>> SAID = HOST.heard(("keys", 1, 0, (5, 6), 0))
+>>> NEXT = SAID.beat(0)
+>>> [SAID.waiting, SAID.heard(("keys", 1, 0, (7,), 0)) == SAID, NEXT.closed, NEXT.row, NEXT.made_sure().mail()]
+[{1: {0: 5, 1: 6}}, True, ((2, 5), (2, 6)), (), (('rows', 1, 0, ((2, 5), (2, 6))),)]
+>>> [NEXT.beat(0).idle, NEXT.beat(0).beat(0).closed[2], is_filled(PAIR, ((2, 5), (2, 70)), 1, 1), is_silent(PAIR, ((2, 64),) * 3, 1)]
+[1, (0, 70), True, True]
+>>> [Host.of_row(PAIR, ROW).timeline.settled, Host.of_row(PAIR, ROW).marks]
+[3, {}]
+"""
+BOOKS = """
+>>> SETUP = Setup(COINS)
+>>> BOOK = with_tick(with_tick(Disk(), 0, (0, 3)).made_sure(), 1, (2, 67))
+>>> [BOOK.blocks, BOOK.sure, read_book(SETUP, BOOK), record_text(12, (0, -1)), read_record("1:2,67;"), read_record("1:2,6")]
+[('0:0,3;', '1:2,67;'), 1, ((0, 3), (2, 67)), '12:0,-1;', (1, (2, 67)), None]
+>>> TORN = BOOK.fallen(0, 5)
+>>> [TORN.blocks, TORN.sure, read_book(SETUP, TORN), read_book(SETUP, with_tick(TORN, 1, (2, 3))), len(list(each_fall(BOOK)))]
+[('0:0,3;', '1:2,6'), 2, ((0, 3),), ((0, 3), (2, 3)), 8]
+>>> [is_left_by(BOOK, TORN), is_left_by(BOOK, Disk()), is_left_by(BOOK, BOOK), BOOK.fallen(1, 0) == BOOK.made_sure()]
+[True, False, False, True]
+>>> BOOK.fallen(2, 0)
+raises InvalidNumber(2)
+"""
+PLAYERS = """
+>>> ONE = Player(PAIR, 1).beat(3)
+>>> [ONE.state, ONE.timeline.own, ONE.letter()[:4], ONE.is_waiting, ONE.beat(0).beat(0).is_waiting]
+['there', {0: 3, 1: 3}, ('keys', 1, 0, (3, 3)), False, True]
+>>> TOLD = ONE.heard(("rows", 1, 0, ((2, 3),)))
+>>> [TOLD.timeline.settled, TOLD.heard(("rows", 1, 0, ((2, 3),))) == TOLD, TOLD.heard(("rows", 1, 3, ((2, 3),))) == TOLD, TOLD.letter()[:4]]
+[1, True, True, ('keys', 1, 1, (3,))]
+>>> LATE = Player(Setup(COINS, starters=(0,), lookers=1), 2)
+>>> [LATE.state, LATE.beat(1) == LATE, LATE.come().letter(), LATE.come().go().state, LATE.seat]
+['away', True, ('word', 2, 'come'), 'gone', None]
+"""
+# What FIRST is told in the examples of steps.
+JOINING = """
+>>> FIRST = plain(COINS, ((2, 1), (2, 1)))
+>>> SETUP = Setup(COINS)
+>>> PART, LETTERS = Gathering(SETUP, 1).heard(("piece", 1, 2, 1, 3, "x")), offer(SETUP, 1, FIRST)
+>>> [PART.lacks, PART.heard(LETTERS[0]) == PART, LETTERS[0][:5], gathered(SETUP, 1, LETTERS * 2).world() == FIRST, Gathering(SETUP, 1).is_whole()]
+[(0, 2), True, ('piece', 1, 2, 0, 1), True, False]
+>>> PART.begun()
+raises Refused(('pieces', (0, 2)))
+"""
+MATCHES = """
+>>> ACTS = (("beat", 1, 3), ("beat", 0, 2), ("hand", 0), ("beat", 0, 2), ("tell",), ("hand", 1))
+>>> END = run(PAIR, ACTS)
+>>> [END.row, END.line(1).settled, END.line(1).shown, len(END.bag), is_sound(END), str(END)]
+[((2, 3), (2, 3)), 2, 1, 2, True, 'standing of 2 machines: 2 settled, 2 letters']
+>>> [END.after(("fall", 0, 0)).row == END.row, run(PAIR, ACTS[:4] + (("fall", 1, 3),)).row, run(PAIR, ACTS[:4]).row]
+[True, ((2, 3),), ()]
+>>> END.after(("hand", 2))
+raises InvalidAct
+"""
+EFFECTS = """
+>>> LEFT, RIGHT = effects_of(COINS, ((2, 0),) * 3), effects_of(COINS, ((0, 1),) * 3)
+>>> [LEFT, RIGHT, effect_change(LEFT, RIGHT), changed(LEFT, LEFT, RIGHT) == RIGHT]
+[((2, 0, 1, 0),), ((2, 0, 1, 1),), (((2, 0, 1, 0),), ((2, 0, 1, 1),)), True]
+>>> [list(tellings(COINS, ((2, 0),) * 3)), is_lot(LEFT + LEFT), is_lot(())]
+[[(0, ()), (1, ()), (2, ((1, 0),))], False, True]
+>>> EAR = Ear().heard(0, ()).heard(1, ()).heard(2, ((1, 0),))
+>>> [EAR.ticks, EAR.lot == LEFT, str(EAR), EAR.heard(1, ((5, 5),)) == EAR, len(EAR)]
+[3, True, 'ear of 3 ticks, 1 effects', True, 1]
+>>> EAR.heard(4, ())
+raises Refused(('hole', 3))
+>>> changed((), LEFT, ())
+raises Refused(('back', (2, 0, 1, 0)))
+"""
+TAPES = """
+>>> TAPE = Tape(COINS, ((2, 0), (2, 1), (0, 0)))
+>>> [len(TAPE), TAPE.world(2).tick, judged(tape_text(TAPE))[0], tape_of(tape_text(TAPE)) == TAPE, str(TAPE.until(1))]
+[3, 2, 'whole', True, 'tape of 1 ticks']
+>>> CUT = judged(tape_text(TAPE)[:-1])
+>>> [CUT[0], CUT[1] == TAPE, tape_text(TAPE)[CUT[2]:]]
+['cut', True, 'f12:t2:s3:endi3;6259']
+>>> [first_unlike(TAPE, TAPE.until(2)), worlds_part(TAPE, TAPE.until(2)), Seeker(TAPE, spacing=2).ticks, Seeker(TAPE, spacing=2).work(3)]
+[2, None, (0, 2), 1]
+"""
+PRINTS = """
+>>> [text_print("ab"), text_print("b!"), text_print("a@"), text_print("")]
+[3105, 3071, 3071, 0]
+>>> FIRST, SECOND, STILL = plain(COINS, ()), plain(COINS, ((2, 0),)), ((0, 0),)
+>>> [first_stray(COINS, ((2, 0),), (FIRST, SECOND)), first_stray(COINS, STILL, (FIRST, SECOND)), unlike_parts(SECOND, plain(COINS, STILL))]
+[None, 1, (0,)]
+>>> [stray_paper(COINS, STILL, (FIRST, SECOND)), is_stray_paper(COINS, STILL, (FIRST, SECOND), ("step", 1, 1)), stray_paper(COINS, (), (FIRST,))]
+[('step', 1, 0), False, None]
+>>> [halved((5, 7, 9, 9, 4), (5, 7, 1, 1, 1)), halved((5, 6), (5, 6)), halved((4, 6), (5, 6)), halved((5, 8, 6), (5, 7, 6))]
+[(2, (0, 4, 2, 1)), (None, (0, 1)), (0, (0,)), (None, (0, 2))]
+>>> is_print_paper(COINS, (), ("print", 0, 5, world_print(FIRST)))
+True
+"""
+BOUNDS = """
+>>> WORDS = ((2, 0), (2, 1), (0, 1))
+>>> even_schedule(PAIR, 1, WORDS[:2])
+(('beat', 0, 2), ('beat', 1, 0), ('tell',), ('hand', 0), ('hand', 1), ('beat', 0, 2), ('beat', 1, 1), ('tell',))
+>>> [even_row(PAIR, 1, WORDS), even_depths(PAIR, 1), does_never_wait(PAIR, 1), does_never_wait(PAIR, 2)]
+[((2, 0), (2, 0), (2, 1)), (2, 1, 2, 1), True, False]
+>>> [calm_round(Standing(PAIR)), calm_goal(Standing(PAIR)), calm_bound(Standing(PAIR)), len(calm_schedule(Standing(PAIR)))]
+[(('beat', 1, 0), ('hand', 0), ('beat', 0, 0), ('tell',), ('hand', 1)), 1, 4, 5]
+>>> even_row(PAIR, 2, WORDS)
+raises Refused(('waits',))
+"""
 
 
 def names_of(*modules):
@@ -227,6 +337,33 @@ class ExamplesTest(unittest.TestCase):
 
     def test_net(self):
         self.check(NET, letters, bag)
+
+    def test_hosts(self):
+        self.check(HOSTS, host)
+
+    def test_books(self):
+        self.check(BOOKS, book)
+
+    def test_players(self):
+        self.check(PLAYERS, player)
+
+    def test_joining(self):
+        self.check(JOINING, step, joining)
+
+    def test_matches(self):
+        self.check(MATCHES, match)
+
+    def test_effects(self):
+        self.check(EFFECTS, effects)
+
+    def test_tapes(self):
+        self.check(TAPES, tapes)
+
+    def test_prints(self):
+        self.check(PRINTS, step, prints)
+
+    def test_bounds(self):
+        self.check(BOUNDS, match, bounds)
 
 
 if __name__ == "__main__":

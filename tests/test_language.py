@@ -12,7 +12,7 @@ import unittest
 
 ROOT = os.path.join(os.path.dirname(os.path.dirname(os.path.abspath(__file__))), "settledplay")
 BUILTINS = set("""len range enumerate zip min max sum abs sorted reversed int str bool list tuple dict set isinstance ord repr
-any all divmod iter property ValueError KeyError IndexError LookupError ArithmeticError OverflowError TypeError
+any all divmod iter property classmethod ValueError KeyError IndexError LookupError ArithmeticError OverflowError TypeError
 NotImplemented""".split())
 METHODS = set("""append clear copy count endswith extend find get index insert isalnum isalpha isdigit islower isspace isupper
 items join keys ljust lower lstrip partition pop remove replace reverse rfind rjust rpartition rsplit rstrip setdefault split
@@ -54,6 +54,22 @@ INTERFACE = {
                                   " Timeline.told Timeline.__eq__ Timeline.__str__", ""),
     "net.letters": ("is_letter/1 goal/1 letter_text/1 read_letter/1", "",
                     "HOST MOST_SEAT MOST_WORDS MOST_STRETCH MOST_PIECES MOST_PIECE"),
+    "seat.host": ("is_filled/4 is_silent/3", "Host.of_row Host.beat Host.made_sure Host.heard Host.mail Host.__eq__", ""),
+    "disk.book": ("each_fall/1 record_text/2 read_record/1 with_tick/3 read_book/2 is_left_by/2",
+                  "Disk.written Disk.made_sure Disk.fallen Disk.__eq__ Disk.__len__", "MAX_BLOCK"),
+    "seat.player": ("keys_letter/3", "Player.come Player.go Player.beat Player.heard Player.letter Player.__eq__", ""),
+    "seat.joining": ("pieces_of/2 offer/3 gathered/3", "Gathering.heard Gathering.is_whole Gathering.world Gathering.begun Gathering.__eq__"
+                                                       " Gathering.__len__", "PIECE"),
+    "match.match": ("is_act/2 run/2 each_standing/2 first_fault/1 is_sound/1",
+                    "Standing.line Standing.view Standing.ground Standing.after Standing.__eq__ Standing.__str__", "MAX_ACTS"),
+    "match.effects": ("effects_of/2 tellings/2 shown_effects/1 is_lot/1 effect_change/2 changed/3",
+                      "Ear.heard Ear.__len__ Ear.__eq__ Ear.__str__", ""),
+    "tape.tapes": ("tape_text/1 judged/1 tape_of/1 first_unlike/2 worlds_part/2",
+                   "Tape.world Tape.until Tape.__len__ Tape.__eq__ Tape.__str__ Seeker.world Seeker.work", "MOST_TICKS WORDS_A_FRAME"),
+    "check.prints": ("text_print/1 world_print/1 unlike_parts/2 first_stray/3 stray_paper/3 is_stray_paper/4 is_print_paper/3 halved/2", "",
+                     "PRINT_BASE PRINT_MODULUS HEAD"),
+    "match.bounds": ("even_schedule/3 even_row/3 does_never_wait/2 even_depths/2 calm_round/1 calm_goal/1 calm_schedule/1 calm_bound/1", "",
+                     "MAX_LATE"),
     "net.bag": ("judged_handing/2", "Bag.sent Bag.sent_all Bag.letter Bag.to Bag.__len__ Bag.__eq__ Bag.__str__", ""),
 }
 
@@ -146,7 +162,7 @@ class LanguageTest(unittest.TestCase):
         let = STATEMENTS + EXPRESSIONS + (ast.ClassDef, ast.ImportFrom)
         self.where("L6, L7", lambda n: isinstance(n, others) and not isinstance(n, let))
         self.where("L4, L5 decorators", lambda n: [part for part in getattr(n, "decorator_list", [])
-                                                   if not isinstance(part, ast.Name) or part.id != "property"])
+                                                   if not isinstance(part, ast.Name) or part.id not in ("property", "classmethod")])
         self.where("L19 handlers", lambda n: isinstance(n, ast.ExceptHandler)
                    and (not isinstance(n.type, ast.Name) or n.type.id in dir(builtins)))
         self.where("L7 floats", lambda n: isinstance(n, ast.Constant) and isinstance(n.value, (float, complex, bytes)))
@@ -186,7 +202,7 @@ class LanguageTest(unittest.TestCase):
                 self.assertIn(node.func.id, BUILTINS, f"L8 {path}:{node.lineno}")
             else:
                 self.assertIsInstance(node.func, ast.Name, f"{path}:{node.lineno}")
-                self.assertIn(node.func.id, own | {"action"}, f"{path}:{node.lineno}")
+                self.assertIn(node.func.id, own | {"action", "cls"}, f"{path}:{node.lineno}")
 
     def test_properties(self):
         """An attribute that some class assigns has a name that no class has as a property without a setter."""
@@ -202,6 +218,20 @@ class LanguageTest(unittest.TestCase):
                    and n.attr in read - settable)
         methods = {name for _, cls in NODES if isinstance(cls, ast.ClassDef) for name in plain_methods(cls)}
         self.assertFalse(read & (methods | METHODS), "L5 properties")
+
+    def test_methods(self):
+        """No method is read off a class by name; what is compared, measured or shown assigns nothing."""
+        own = {node.name for _, node in NODES if isinstance(node, ast.ClassDef)}
+        self.where("L18", lambda n: isinstance(n, ast.Attribute) and isinstance(n.value, ast.Name) and n.value.id in own | {"cls"})
+        still = [(path, part) for path, node in NODES if isinstance(node, ast.FunctionDef) and node.name in SPECIAL - {"__init__"}
+                 for part in ast.walk(node)]
+        self.none_of("L28", [(path, part.lineno) for path, part in still if isinstance(part, (ast.Assign, ast.AugAssign, ast.Delete))])
+        # An attribute does not have the name of a method of a builtin value.
+        barred = set(dir(str)) | set(dir(list)) | set(dir(dict)) | set(dir(int)) | set(dir(set)) | set(dir(bytes))
+        self.where("L26", lambda n: isinstance(n, ast.Attribute) and isinstance(n.ctx, ast.Store) and n.attr in barred)
+        decorated = [node.name for _, node in NODES if isinstance(node, ast.FunctionDef) and node.decorator_list]
+        stored = {n.attr for _, n in NODES if isinstance(n, ast.Attribute) and isinstance(n.ctx, ast.Store)}
+        self.assertFalse(set(decorated) & stored, "L5")
 
     def test_classes(self):
         stored = {node.attr for _, node in NODES if isinstance(node, ast.Attribute) and isinstance(node.ctx, ast.Store)}
@@ -247,6 +277,15 @@ def given(node):
     return [node.id] if isinstance(node, ast.Name) and isinstance(node.ctx, ast.Store) else []
 
 
+def found(path):
+    """The function, class or method with a path."""
+    folder, file, *names = path.split(".")
+    value = importlib.import_module(f"settledplay.{folder}.{file}")
+    for name in names:
+        value = getattr(value, name)
+    return value
+
+
 class InterfaceTest(unittest.TestCase):
     def test_all_is_there_and_defined_in_its_file(self):
         for name, (functions, classes, constants) in INTERFACE.items():
@@ -266,7 +305,8 @@ class InterfaceTest(unittest.TestCase):
 
     def test_keywords(self):
         told = {"rules.forms.Game": "arena seats=2 luck=0", "rules.forms.game_fault": "arena seats=2 luck=0", "arena.boxes.are_meeting": "grown=0",
-                "keep.ring.Ring": "spacing=2", "play.keys.Setup": "window=4 delay=2 spacing=2 patience=3 silence=6 starters=None lookers=0 guesses=None"}
+                "keep.ring.Ring": "spacing=2", "match.effects.tellings": "first=0", "tape.tapes.Seeker": "spacing=10",
+                "play.keys.Setup": "window=4 delay=2 spacing=2 patience=3 silence=6 starters=None lookers=0 guesses=None"}
         for path, names in told.items():
             module, _, name = path.rpartition(".")
             function = getattr(importlib.import_module("settledplay." + module), name)
@@ -274,9 +314,10 @@ class InterfaceTest(unittest.TestCase):
             self.assertEqual([str(parameter) for parameter in found], names.split(), path)
 
     def test_defaults_of_others(self):
-        for path, names in (("play.timeline.Timeline", ["setup", "seat", "world=None"]), ("net.bag.Bag", ["letters=()"])):
-            module, _, name = path.rpartition(".")
-            function = getattr(importlib.import_module("settledplay." + module), name)
+        for path, names in (("play.timeline.Timeline", ["setup", "seat", "world=None"]), ("net.bag.Bag", ["letters=()"]),
+                            ("disk.book.Disk", ["blocks=()", "sure=0"]), ("match.effects.Ear", []), ("seat.host.Host", ["setup"]),
+                            ("seat.host.Host.of_row", ["setup", "row"])):
+            function = found(path)
             self.assertEqual([str(parameter) for parameter in inspect.signature(function).parameters.values()], names)
 
 

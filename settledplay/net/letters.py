@@ -1,12 +1,11 @@
 """Letters between the host and the other machines."""
 
 from settledplay.base.checks import is_whole, is_within
-from settledplay.base.luck import MODULUS
 from settledplay.base.texts import has_signs, text_of, value_of
+from settledplay.check.prints import is_print
 from settledplay.errors import InvalidLetter, ParseError
 from settledplay.play.keys import is_word
-from settledplay.rules.forms import MAX_SEATS
-from settledplay.rules.joints import is_entry_of_seat
+from settledplay.rules.joints import is_joint_of_some
 
 HOST = -1
 MOST_SEAT = 5
@@ -25,7 +24,7 @@ def is_keys_letter(value):
     if len(value) != 5:
         return False
     _, _, first, words, print_of_world = value
-    if not is_whole(first) or not is_within(print_of_world, 0, MODULUS - 1):
+    if not is_whole(first) or not is_print(print_of_world):
         return False
     return isinstance(words, tuple) and len(words) <= MOST_WORDS and all([is_word(word) for word in words])
 
@@ -37,14 +36,7 @@ def is_rows_letter(value):
     _, _, first, entries = value
     if not is_whole(first) or not isinstance(entries, tuple) or len(entries) > MOST_STRETCH:
         return False
-    return all([is_joint_of_letter(joint) and len(joint) == len(entries[0]) for joint in entries])
-
-
-def is_joint_of_letter(value):
-    """Whether the value is a joint word of some game."""
-    if not isinstance(value, tuple) or not 1 <= len(value) <= MAX_SEATS:
-        return False
-    return all([is_entry_of_seat(entry) for entry in value])
+    return all([is_joint_of_some(joint) and len(joint) == len(entries[0]) for joint in entries])
 
 
 def is_piece_letter(value):

@@ -128,6 +128,13 @@ def has_one_stay(setup, row, seat):
     return ticks[-1] - ticks[0] == len(ticks) - 1 and (ticks[0] == 0 or seat not in setup.starters)
 
 
+def can_follow(setup, row, joint):
+    """Whether a sure row stays a row of the match with this behind it."""
+    if not is_joint_of_match(setup, joint):
+        return False
+    return all([joint[seat] == AWAY or stay_behind(setup, row, seat) != "out" for seat in range(setup.seats)])
+
+
 def need_row_of_match(setup, value):
     """Refuse what is no row of a match."""
     if not is_row_of_match(setup, value):

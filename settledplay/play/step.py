@@ -43,6 +43,13 @@ def step_with(game, world, joint, told):
     return (after, tuple(records), effects_of_records(records), tuple(anew))
 
 
+def behind_words(game, world, words):
+    """The world that comes from a world by steps with joint words, for sure arguments."""
+    for joint in words:
+        world = stepped(game, world, joint)[0]
+    return world
+
+
 def effects_of_records(records):
     """The effects that runs told, in their sequence."""
     return tuple([effect for record in records for effect in record[7]])
@@ -66,10 +73,7 @@ def plain(game, row):
     """The plain world of a row."""
     need_game(game)
     need_row(game, row)
-    world = first_world(game)
-    for joint in row:
-        world = stepped(game, world, joint)[0]
-    return world
+    return behind_words(game, first_world(game), row)
 
 
 def plain_worlds(game, row):

@@ -2,6 +2,7 @@
 
 from settledplay.base.checks import is_within
 from settledplay.errors import InvalidRow, InvalidWord
+from settledplay.rules.forms import MAX_SEATS
 
 MOST_ENTRY = 127
 WORDS = 64
@@ -15,6 +16,13 @@ def is_entry_of_seat(value):
 def is_joint_of(game, value):
     """Whether the value is a tuple with an entry for each seat of the game."""
     if not isinstance(value, tuple) or len(value) != game.seats:
+        return False
+    return all([is_entry_of_seat(entry) for entry in value])
+
+
+def is_joint_of_some(value):
+    """Whether the value is a joint word of some game."""
+    if not isinstance(value, tuple) or not 1 <= len(value) <= MAX_SEATS:
         return False
     return all([is_entry_of_seat(entry) for entry in value])
 

@@ -32,6 +32,7 @@ EXPRESSIONS = {
 }
 TWO_PARTS = ("part", "part")
 LOOPS = ("each", "first", "count")
+MOST_CODE = 99
 # The index of the row of `first` that is done for no thing, and so does not know one.
 ROW_FOR_NONE = 5
 # What stands in the place of a kind for a name that `let` made known: no kind is called so.
@@ -116,7 +117,7 @@ def is_member(site, member, sort):
     if sort == "row":
         return isinstance(member, tuple)
     if sort == "code":
-        return is_within(member, 0, 99)
+        return is_within(member, 0, MOST_CODE)
     if sort == "bit":
         return is_within(member, 0, 5)
     if sort == "sides":

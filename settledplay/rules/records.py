@@ -5,6 +5,7 @@ from settledplay.base.luck import is_luck
 from settledplay.base.numbers import is_number
 from settledplay.rules.forms import MAX_THINGS
 from settledplay.rules.joints import WORDS
+from settledplay.rules.pieces import MOST_CODE
 from settledplay.world.worlds import are_things
 
 # The sorts of the members behind the word of a place.
@@ -135,4 +136,4 @@ def are_effects(value):
     """Whether the value is a tuple of pairs of a code and a number."""
     if not isinstance(value, tuple) or not all([isinstance(pair, tuple) and len(pair) == 2 for pair in value]):
         return False
-    return all([is_within(code, 0, 99) and is_number(number) for code, number in value])
+    return all([is_within(code, 0, MOST_CODE) and is_number(number) for code, number in value])

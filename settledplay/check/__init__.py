@@ -1,0 +1,1 @@
+"""Prints of worlds, and seats that stray from the row."""

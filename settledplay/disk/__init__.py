@@ -1,0 +1,1 @@
+"""The disk of the host, and the book that it writes there."""

@@ -1,0 +1,1 @@
+"""Whole matches: acts, effects that are told once, bounds."""

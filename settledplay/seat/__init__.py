@@ -1,0 +1,1 @@
+"""The machines: the host, the others, and how one comes late."""

@@ -1,0 +1,1 @@
+"""Tapes: a game and a row, kept as a text."""
