@@ -206,18 +206,24 @@ class LanguageTest(unittest.TestCase):
 
     def test_properties(self):
         """An attribute that some class assigns has a name that no class has as a property without a setter."""
-        read, settable = set(), set()
-        for path, node in NODES:
-            for part in getattr(node, "decorator_list", []):
-                if isinstance(part, ast.Name) and part.id == "property":
-                    read.add(node.name)
-                if isinstance(part, ast.Attribute) and part.attr == "setter":
-                    settable.add(node.name)
-        self.assertIn("own", read)
-        self.where("L5 properties", lambda n: isinstance(n, ast.Attribute) and not isinstance(n.ctx, ast.Load)
-                   and n.attr in read - settable)
+        read = names_of_properties(TREES.values())
+        self.assertTrue({"own", "waiting", "marks", "offers", "pieces"} <= read)
+        self.none_of("L5 properties", [(path, line) for path, tree in TREES.items() for line in assigned_in(tree, read)])
         methods = {name for _, cls in NODES if isinstance(cls, ast.ClassDef) for name in plain_methods(cls)}
         self.assertFalse(read & (methods | METHODS), "L5 properties")
+
+    def test_what_assigns_a_property_is_found(self):
+        one = ast.parse("class One:\n    @property\n    def own(self):\n        return 1\n")
+        with_setter = "class Two:\n    @property\n    def own(self):\n        return 1\n    @own.setter\n    def own(self, value):\n        pass\n"
+        self.assertEqual(names_of_properties([one]), {"own"})
+        self.assertEqual(names_of_properties([ast.parse(with_setter)]), set())
+        # It needs a setter in each class that has it.
+        self.assertEqual(names_of_properties([one, ast.parse(with_setter)]), {"own"})
+        for line in ("self.own = 1", "self.own += 1", "box.x, (y, box.own) = rows", "for box.own in rows: pass", "del box.own", "setattr(box, 'own', 1)", "a = box.own = 1",
+                     "box.own: int = 5"):
+            self.assertEqual(assigned_in(ast.parse("pass\n" + line), {"own"}), [2], line)
+        for line in ("own = self.own", "self.owns = 1", "box.own[1] = 2", "box.own.x = 2", "box(own=1)", "getattr(box, 'own')"):
+            self.assertEqual(assigned_in(ast.parse(line), {"own"}), [], line)
 
     def test_methods(self):
         """No method is read off a class by name; what is compared, measured or shown assigns nothing."""
@@ -245,6 +251,27 @@ class LanguageTest(unittest.TestCase):
                 self.assertFalse(mine & set(names), f"L18 {path}")
             if isinstance(node, ast.Attribute) and isinstance(node.ctx, ast.Load):
                 self.assertIn(node.attr, stored | OWN_METHODS | METHODS, f"L18 {path}:{node.lineno}")
+
+
+def names_of_properties(trees):
+    """The names that some class has as a property without a setter."""
+    found = set()
+    for tree in trees:
+        for cls in [node for node in ast.walk(tree) if isinstance(node, ast.ClassDef)]:
+            over = [(part.name, ast.unparse(told)) for part in cls.body if isinstance(part, ast.FunctionDef) for told in part.decorator_list]
+            found |= {name for name, told in over if told == "property" and (name, name + ".setter") not in over}
+    return found
+
+
+def assigned_in(tree, names):
+    """The lines in which an attribute with one of the names is assigned."""
+    found = []
+    for node in ast.walk(tree):
+        if isinstance(node, ast.Attribute) and not isinstance(node.ctx, ast.Load) and node.attr in names:
+            found.append(node.lineno)
+        if isinstance(node, ast.Call) and isinstance(node.func, ast.Name) and node.func.id == "setattr" and node.args[1].value in names:
+            found.append(node.lineno)
+    return found
 
 
 def plain_methods(cls):
