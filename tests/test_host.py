@@ -63,6 +63,8 @@ class BeginningTest(unittest.TestCase):
         check_order(self, Host.of_row, (PAIR, ROW), [SETUPS, ROWS])
         words = [(value, ("InvalidWord",)) for value in [value for value in JUNK] + [64, -1, True, "0", None, (0,)]]
         check_order(self, Host(PAIR).beat, (0,), [words])
+        # Also by one whose window is full.
+        check_order(self, after(Host(PAIR), 0, 0, 0).beat, (0,), [words])
         letters = [*JUNK, ("rows", 1, 0, ()), ("piece", 1, 0, 0, 1, "x"), keys(2, 0), ("word", 2, "come"), ("word", 2, "go"), keys(0, 0), ("word", 0, "go"),
                    keys(1, -1), keys(1, 0, 64), ("word", 1, "stay"), keys(True, 0), list(keys(1, 0))]
         check_order(self, Host(PAIR).heard, (keys(1, 0),), [[(value, ("InvalidLetter",)) for value in letters]])

@@ -8,7 +8,7 @@ from settledplay.disk.book import Disk, each_fall, read_book, with_tick
 from settledplay.match.match import MAX_ACTS, Standing, each_standing, first_fault, is_act, is_sound, run
 from settledplay.net.bag import Bag, judged_handing
 from settledplay.play.keys import Setup, is_row
-from settledplay.play.step import next_world, plain
+from settledplay.play.step import next_world, plain, plain_worlds
 from settledplay.play.timeline import Timeline
 from settledplay.rules.forms import Game
 from settledplay.seat.host import Host
@@ -251,6 +251,11 @@ class FaultsTest(unittest.TestCase):
         line = self.standing.line(1)
         for parts in ({"shown_world": line.settled_world}, {"shown": line.settled - 2}, {"shown": line.settled + 4}, {"said": (0,) + line.said[1:]}):
             self.check(self.with_line(forged(line, **parts)), ("shown", 1))
+        # Worlds that come by steps with used words, but are too far ahead or behind.
+        worlds = list(plain_worlds(COINS, self.standing.row + tuple(line.used(tick) for tick in range(2, 6))))
+        for shown, fault in ((0, ("shown", 1)), (1, None), (5, None), (6, ("shown", 1))):
+            told = forged(line, shown=shown, shown_world=worlds[shown])
+            self.assertEqual((told.settled, first_fault(self.with_line(told))), (2, fault))
         host = forged(self.standing.host, timeline=forged(self.standing.line(0), shown=9))
         self.check(forged(self.standing, host=host), ("shown", 0))
 
@@ -260,6 +265,11 @@ class FaultsTest(unittest.TestCase):
         self.assertEqual((standing.row, line.own), (((2, 3), (2, 3)), {0: 3, 1: 3, 2: 4}))
         other = Timeline(PAIR, 1).pressed(9).advanced()
         self.check(forged(standing, players=(forged(standing.players[0], timeline=other),)), ("own", 1))
+        for entry, fault in ((0, ("own", 1)), (63, ("own", 1)), (9, None), (64, None), (127, None), (-1, None)):
+            row = ((2, entry),)
+            told = forged(standing, row=row, disk=Disk((f"0:2,{entry};",), 1), host=Host.of_row(PAIR, row), bag=Bag(),
+                          players=(forged(standing.players[0], timeline=other),))
+            self.assertEqual(first_fault(told), fault, entry)
         filled = run(PAIR, (("beat", 1, 3), ("beat", 0, 2), ("beat", 0, 2), ("tell",)))
         self.assertEqual((filled.row, filled.line(1).own, first_fault(filled)), (((2, 64),), {0: 3, 1: 3}, None))
         out = run(Setup(COINS, window=3, delay=1, patience=9), (("beat", 1, 3), ("go", 1), ("hand", 1), ("beat", 0, 2), ("tell",)))

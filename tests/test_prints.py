@@ -180,6 +180,12 @@ class StrayTest(unittest.TestCase):
             self.assertIs(is_stray_paper(COINS, ROW, report, value), False, value)
         self.assertIs(is_stray_paper(COINS, ROW, WORLDS, ("step", 1, 1)), False)
 
+    def test_ticks_below_0(self):
+        # Counted from the end there would be an unlike part.
+        report = (WORLDS[0], WORLDS[1], WORLDS[2], changed(WORLDS[3], 1, 0, 5))
+        self.assertEqual([is_stray_paper(COINS, ROW + STILL[:1], report, ("step", tick, part)) for tick in (3, -1, -2) for part in (-1, 0, 1, 2)],
+                         [False, False, True] + [False] * 9)
+
     def test_ids_of_many_digits(self):
         game = Game(COINS.kinds, (("for", "coin", (("make", "coin", ()),)),), ((("coin", (0, 0, 0, 0)),)), arena=(9, 9))
         far = World(0, 10 ** 60 - 1, 0, ((10 ** 60 - 2, "coin", (0, 0, 0, 0)),))
@@ -214,6 +220,7 @@ class PrintPaperTest(unittest.TestCase):
                       ["print", 1, 5, due], (1, 1, 5, due)]:
             self.assertIs(is_print_paper(COINS, ROW, value), False, value)
         self.assertIs(is_print_paper(COINS, (), ("print", 1, 5, due)), False)
+        self.assertEqual([is_print_paper(COINS, ROW, ("print", tick, 5, world_print(WORLDS[2]))) for tick in (2, -1)], [True, False])
         self.assertIs(is_print_paper(COINS, (), ("print", 0, 5, world_print(WORLDS[0]))), True)
 
     def test_true_is_not_one(self):

@@ -70,10 +70,9 @@ def is_letter_of_row(row, letter):
 
 def does_disk_hold(standing):
     """Whether each fall leaves a row between the settled one and the closed one."""
-    row = standing.row
     for left in each_fall(standing.disk):
-        # What is sure was read for the settled row, so reading goes on from there.
-        found = row_read(standing.setup, row, left.blocks[standing.disk.sure:])
-        if found[:len(row)] != row or found != standing.host.closed[:len(found)]:
+        # What is sure was read for the settled row, so reading goes on from there, and what is found begins with it.
+        found = row_read(standing.setup, standing.row, left.blocks[standing.disk.sure:])
+        if found != standing.host.closed[:len(found)]:
             return False
     return True
