@@ -50,6 +50,15 @@ JUNK = (
 )
 
 
+def spoiled(value):
+    """Each junk value, and the value with each junk value in the place of each of its members, however deep these stand."""
+    yield from JUNK
+    if isinstance(value, tuple):
+        for at, member in enumerate(value):
+            for other in spoiled(member):
+                yield (*value[:at], other, *value[at + 1:])
+
+
 def error_of(call, *args, **named):
     """The name of the error that a call raises, with what it keeps; None for no error."""
     try:

@@ -4,7 +4,7 @@ import unittest
 from itertools import permutations, product
 from random import Random
 
-from helper import JUNK, error_of, number_error
+from helper import JUNK, error_of, number_error, spoiled
 from settledplay.base.texts import is_plain, text_of
 from settledplay.net.bag import Bag, judged_handing
 from settledplay.net.letters import (HOST, MOST_PIECE, MOST_PIECES, MOST_SEAT, MOST_STRETCH, MOST_WORDS, goal, is_letter, letter_text,
@@ -31,6 +31,8 @@ WRONG = [
     *[("keys", 1, 3, (0,), number) for number in (-1, 999999937, True, False, None, "7", (), 10 ** 60)],
     *[("rows", 1, 0, rows) for rows in (((0,),) * 33, ((),), ((0,) * 5,), ((0, 1), (0,)), ((0,), (0, 1)), ((128,),), ((-2,),), ((True,),), ((0, None),),
                                          [(0,)], ([0],), (0,), None, 0, "0", ((0,), 0), ((10 ** 60,),))],
+    *[("rows", 1, 0, (first, (0, 3))) for first in JUNK],
+    *[("rows", 1, 0, ((0, 3), other, (0, 3))) for other in JUNK],
     *[("piece", 1, 0, index, many, "x") for index, many in ((0, 0), (0, 101), (1, 1), (2, 2), (100, 100), (-1, 1), (True, 2), (0, True), (None, 1), (0, None),
                                                             ("0", 1), (0, "1"), ((), 1), (0, 10 ** 60))],
     *[("piece", 1, 0, 0, 1, text) for text in ("", "x" * 201, "a\nb", "\x1f", "\x7f", "\xe9", None, 0, ("x",), ["x"])],
@@ -50,6 +52,38 @@ def naive_judged(letters, handing):
     return tuple(lost), tuple(doubled), tuple(sorted(overtaken))
 
 
+def is_integer(value, low, high):
+    """Whether the value is an integer from low to high."""
+    return type(value) is int and low <= value <= high
+
+
+def are_all(value, most, is_member):
+    """Whether the value is a tuple of at most so many members, each of them right."""
+    return type(value) is tuple and len(value) <= most and all(map(is_member, value))
+
+
+def is_joint(value):
+    """Whether the value is a tuple of entries that a rows letter can tell."""
+    return are_all(value, 4, lambda entry: is_integer(entry, -1, 127)) and value != ()
+
+
+def naive_is_letter(value):
+    """Whether the value is a letter, as [12.1] tells it, form by form."""
+    if type(value) is not tuple or len(value) < 3 or type(value[0]) is not str or not is_integer(value[1], 1, 5):
+        return False
+    word, behind = value[0], value[2:]
+    if (word, len(behind)) == ("keys", 3):
+        return (is_integer(behind[0], 0, FAR) and are_all(behind[1], 20, lambda member: is_integer(member, 0, 63))
+                and is_integer(behind[2], 0, 999999936))
+    if (word, len(behind)) == ("rows", 2):
+        return is_integer(behind[0], 0, FAR) and are_all(behind[1], 32, is_joint) and len(set(map(len, behind[1]))) < 2
+    if (word, len(behind)) == ("piece", 4):
+        tick, index, many, text = behind
+        return (is_integer(tick, 0, FAR) and is_integer(many, 1, 100) and is_integer(index, 0, many - 1)
+                and type(text) is str and 1 <= len(text) <= 200 and all(" " <= sign <= "~" for sign in text))
+    return (word, len(behind)) == ("word", 1) and type(behind[0]) is str and behind[0] in ("come", "go")
+
+
 class LettersTest(unittest.TestCase):
     def test_constants(self):
         self.assertEqual((HOST, MOST_SEAT, MOST_WORDS, MOST_STRETCH, MOST_PIECES, MOST_PIECE), (-1, 5, 20, 32, 100, 200))
@@ -59,6 +93,21 @@ class LettersTest(unittest.TestCase):
             self.assertIs(is_letter(letter), True, letter)
         for value in WRONG:
             self.assertIs(is_letter(value), False, value)
+
+    def test_letters_with_something_else_in_them(self):
+        """What is no letter is judged [0.5] and refused [0.4], wherever in it something wrong stands."""
+        tall = ("rows", 3, 2, ((0, 1, 2), (-1, 64, 127), (5, 6, 7)))
+        seen = 0
+        for letter in (KEYS, ROWS, PIECE, WORD, tall):
+            for value in spoiled(letter):
+                is_right = naive_is_letter(value)
+                seen += is_right
+                self.assertIs(is_letter(value), is_right, value)
+                for call in (goal, letter_text, Bag().sent, lambda value: Bag((value, ROWS)), lambda value: Bag().sent_all((ROWS, value))):
+                    self.assertEqual(error_of(call, value), None if is_right else ("InvalidLetter",), value)
+                if is_plain(value) and not is_right:
+                    self.assertEqual(error_of(read_letter, text_of(value)), ("InvalidLetter",), value)
+        self.assertGreater(seen, 10)
 
     def test_goals(self):
         for seat in range(1, 6):

@@ -36,7 +36,10 @@ def is_rows_letter(value):
     _, _, first, entries = value
     if not is_whole(first) or not isinstance(entries, tuple) or len(entries) > MOST_STRETCH:
         return False
-    return all([is_joint_of_some(joint) and len(joint) == len(entries[0]) for joint in entries])
+    # All are known to be tuples ahead of the question how long they are.
+    if not all([is_joint_of_some(joint) for joint in entries]):
+        return False
+    return all([len(joint) == len(entries[0]) for joint in entries])
 
 
 def is_piece_letter(value):
